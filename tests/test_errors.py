@@ -1,0 +1,65 @@
+"""Errors: fields of any kind, by position and by name, and the classes above them."""
+
+import unittest
+
+from jumblepost import errors
+from tests.helpers import odd_values
+
+FIELDS = {
+    "BadValue": ("what",), "BadRow": ("index",), "BadSheet": ("what", "index"), "BadStation": ("what", "index"),
+    "BadStamp": ("what", "index"), "BadLine": ("what",), "NoPlacing": ("station",), "TooMany": ("what",),
+    "BadRun": ("what", "index"), "NotForced": ("paper",), "Unfit": ("place",), "BadRecord": ("place",),
+    "NoHistory": ("place",), "NothingKept": ("what",), "BadText": ("at", "word"), "BadAsk": ("at", "word"),
+    "BadShelf": ("what", "index"), "NoName": ("name",),
+}
+
+
+class TestErrors(unittest.TestCase):
+
+    def test_no_other_errors(self):
+        found = [name for name, value in vars(errors).items() if isinstance(value, type)]
+        self.assertEqual(sorted(found), sorted([*FIELDS, "PostError"]))
+
+    def test_fields_by_position_and_by_name(self):
+        values = odd_values()
+        for name, fields in FIELDS.items():
+            made = getattr(errors, name)
+            for at in range(len(values)):
+                told = [values[at], values[at - 1]][:len(fields)]
+                error = made(*told)
+                named = made(**dict(reversed(list(zip(fields, told)))))
+                for field, value in zip(fields, told):
+                    self.assertIs(getattr(error, field), value)
+                    self.assertIs(getattr(named, field), value)
+                self.assertEqual(vars(error), dict(zip(fields, told)))
+
+    def test_classes_above(self):
+        for name, fields in FIELDS.items():
+            made = getattr(errors, name)
+            self.assertEqual(made.__bases__, (errors.PostError,))
+            error = made(*[0 for _ in fields])
+            self.assertIsInstance(error, ValueError)
+            others = [other for other in FIELDS if other != name]
+            self.assertFalse([other for other in others if isinstance(error, getattr(errors, other))])
+        self.assertEqual(errors.PostError.__bases__, (ValueError,))
+
+    def test_wrong_number_of_fields(self):
+        for name, fields in FIELDS.items():
+            made = getattr(errors, name)
+            self.assertRaises(TypeError, made)
+            self.assertRaises(TypeError, made, *range(len(fields) + 1))
+
+    def test_base_with_any_values(self):
+        for told in ((), (1,), (None, [2], "x"), tuple(odd_values())):
+            with self.assertRaises(ValueError) as caught:
+                raise errors.PostError(*told)
+            self.assertEqual(len(caught.exception.args), len(told))
+
+    def test_caught_as_value_error(self):
+        with self.assertRaises(ValueError) as caught:
+            raise errors.BadText(3, 4)
+        self.assertEqual((caught.exception.at, caught.exception.word), (3, 4))
+
+
+if __name__ == "__main__":
+    unittest.main()
