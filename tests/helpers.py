@@ -4,9 +4,14 @@ import ast
 import re
 
 from jumblepost import errors
+from jumblepost.lines import Line
 from jumblepost.rows import Row
 from jumblepost.sheets import Cell, Panel, Sheet
+from jumblepost.sightings import Alike, Sighting
+from jumblepost.stamps import Stamp
 from jumblepost.stations import Station
+from jumblepost.views import Sight
+from jumblepost.wheels import Wheel
 from jumblepost.zones import Chain, Ring, Zone
 
 
@@ -25,10 +30,12 @@ def small_sheet():
 
 
 def objects():
-    """An object of each class of the first stage."""
+    """An object of each class."""
     return [
         Row(0, 1, 2), Zone(2, 3), Ring(()), Chain(()), Panel(1, 2), Cell(0, 0, 0), small_sheet(),
-        Station(3, ((0, 1),)), errors.BadValue("x"),
+        Station(3, ((0, 1),)), errors.BadValue("x"), Sight(((0,),), (0, 0, 1), False), Sight(None, 1, [2]),
+        Wheel.digits(7), Stamp.digits(7), Line(small_sheet(), Stamp.digits(5), Station(1, ((0, 1),))),
+        Sighting(0, (0,), (), ("0",)), Alike(None, 3),
     ]
 
 

@@ -37,6 +37,77 @@ LYING = '''
 'sheet 2 6 7 4 4 ahead 1 0 cells 3 0 0 0 2 0 0 2 2 1 1 0 2'
 '''
 
+VIEWS = '''
+>>> from jumblepost.lying import cell_places, view_at
+>>> from jumblepost.look_views import look_tree
+>>> from jumblepost.sheets import Cell, Panel, Sheet
+>>> from jumblepost.stations import Station
+>>> from jumblepost.views import edge_ranges, view_tree, views
+>>> sheet = Sheet((Panel(6, 7), Panel.firm(4)), (1, 0), (Cell(0, 0, 0, 2), Cell(0, 0, 2, 2), Cell(1, 1, 0, 2)))
+>>> station = Station(10, ((1, 5),))
+>>> [cell_places(sheet, (0, 1, 7, 3)), view_at(sheet, station, (0, 1, 7, 3)), cell_places(sheet, (0, 7, 1, 5), True)]
+[((1, 3), (3, 5), (3, 5)), ((0, 2),), ((5, 7), (3, 5), (3, 5))]
+>>> [(sight.view, sight.places) for sight in views(sheet, station)]
+[(((),), (0, 4, 10, 6)), (((0,),), (0, 1, 8, 4)), (((0, 2),), (0, 1, 7, 3)), (((2,),), (0, 0, 6, 2))]
+>>> tree = view_tree(sheet, station)
+>>> [str(node) for node in tree[:4]]
+['x0 - x1 <= -1', 'x1 - x0 <= 3', 'x1 - x0 <= 1', 'x3 - x0 <= 3']
+>>> [node.places for node in tree[4:]]
+[(0, 1, 7, 3), (0, 1, 8, 4), (0, 2, 8, 4), (0, 4, 10, 6), (0, 0, 6, 2)]
+>>> [look_tree(tree, sheet, station), look_tree((), sheet, station), edge_ranges(sheet, station, ((0,),))]
+[True, False, ((1, 3), (8, 10), (4, 6))]
+>>> str(sheet)
+'sheet 2 6 7 4 4 ahead 1 0 cells 3 0 0 0 2 0 0 2 2 1 1 0 2'
+'''
+
+WHEELS = '''
+>>> from jumblepost.wheels import Wheel
+>>> late = Wheel(("0", "1", "2"), lag=1)
+>>> [late.may(1), late.may(1, 1), late.may(0, 1), late.may(2, band=2), late == Wheel.digits(3, 1), str(late)]
+[(1,), (0, 1), (0, 2), (0, 2), True, '0 1 2 / 1 0']
+>>> Wheel.read("0 / 0 0")
+raises BadText(0, 1)
+'''
+
+STAMPS = '''
+>>> from jumblepost.stamps import Stamp
+>>> stamp = Stamp(Wheel.digits(3), late)
+>>> [stamp.cycle, stamp.figures(6), stamp.band(0, 0), stamp.band(0, 1), list(stamp.standings(6)), stamp.prints(6), stamp.prints(9)]
+[9, (0, 2), 1, 0, [(0, 1), (0, 2)], ('10', '20'), ('00', '20')]
+>>> [stamp.value((0, 2)), stamp.print_of((2, 0)), stamp.cell(0), str(stamp), len(stamp)]
+[6, '02', (1, 0), '0 1 2 / 0 0 ; 0 1 2 / 1 0', 2]
+>>> Stamp(Wheel.digits(2), Wheel.digits(4, 2, 1))
+raises BadStamp('bands', 1)
+'''
+
+PRINTED = '''
+>>> from jumblepost.printed import count_printed, next_printed, printed
+>>> [count_printed(stamp, "1."), [printed(stamp, "1.", k) for k in range(4)], next_printed(stamp, "1.", 7), next_printed(stamp, "0x", 0)]
+[4, [3, 4, 5, 6], 12, None]
+'''
+
+LINES = '''
+>>> from jumblepost.lines import Line
+>>> from jumblepost.looks import are_alike, common_looks, look_of, looks, next_shown
+>>> from jumblepost.sightings import alike
+>>> sheet = Sheet((Panel(8, 8),), (0,), (Cell(0, 0, 0, 2), Cell(0, 0, 6, 2), Cell(0, 0, 3, 2)))
+>>> three = Wheel(("0", "1", "2"))
+>>> narrow = Line(sheet, Stamp(three, three, three), Station(10, ((3, 7),)))
+>>> broad = Line(sheet, Stamp(three, three, three), Station(10, ((2, 8),)))
+>>> [narrow.views, broad.views, look_of(((0, 2),), "100")]
+[(((2,),),), (((0, 2),), ((2,),), ((2, 1),)), ('10',)]
+>>> [looks(narrow, 9), looks(broad, 9), looks(broad, 10), common_looks(broad, 9, 10), are_alike(broad, 9, 13)]
+[(('0',),), (('0',), ('00',), ('10',)), (('1',), ('10',), ('11',)), (('10',),), False]
+>>> [next_shown(broad, ("10",), 2), next_shown(broad, ("10",), 20), next_shown(broad, ("3",), 0)]
+[9, 28, None]
+>>> paper = alike(broad, 9, 10)
+>>> [paper.distance, paper.one.standing, paper.other.sights[0].view]
+[1, (0, 0, 1), ((2, 1),)]
+>>> Line(sheet, Stamp(three, three), Station(10, ((3, 7),)))
+raises BadLine('cells')
+'''
+
+
 class TestExamples(unittest.TestCase):
     """Each heading runs behind those whose names its examples use."""
 
@@ -47,6 +118,17 @@ class TestExamples(unittest.TestCase):
 
     def test_lying(self):
         Examples(self).run(LYING)
+
+    def test_views(self):
+        Examples(self).run(VIEWS)
+
+    def test_wheels_stamps_printed_lines(self):
+        examples = Examples(self)
+        examples.run(VIEWS)
+        examples.run(WHEELS)
+        examples.run(STAMPS)
+        examples.run(PRINTED)
+        examples.run(LINES)
 
 
 if __name__ == "__main__":

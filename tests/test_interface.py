@@ -12,6 +12,21 @@ FUNCTIONS = {
         "zone_of": "(sheet, station, turned=False)", "cell_places": "(sheet, places, turned=False)",
         "view_at": "(sheet, station, places, turned=False)",
     },
+    "views": {
+        "view_tree": "(sheet, station, turned=False)", "each_sight": "(sheet, station)", "views": "(sheet, station)",
+        "edge_ranges": "(sheet, station, view)",
+    },
+    "look_views": {"look_sight": "(sight, sheet, station)", "look_tree": "(tree, sheet, station, turned=False)"},
+    "printed": {
+        "count_printed": "(stamp, pattern)", "printed": "(stamp, pattern, index)", "next_printed": "(stamp, pattern, number)",
+    },
+    "looks": {
+        "look_of": "(view, text)", "looks": "(line, number)", "shows": "(line, number, look)", "is_look": "(line, look)",
+        "common_looks": "(line, one, other)", "are_alike": "(line, one, other)", "next_shown": "(line, look, number)",
+    },
+    "sightings": {
+        "sighting": "(line, number, look)", "sightings": "(line, number)", "alike": "(line, one, other)",
+    },
 }
 
 CLASSES = {
@@ -33,6 +48,24 @@ CLASSES = {
     },
     "stations": {
         "Station": {"__init__": "(self, width, panes, rows=(), either=False)", "pushed": "(self, *rows)", "__eq__": "(self, other)", "__str__": "(self)", "read": "(text)", "MOST_PANES": None, "WIDEST": None},
+    },
+    "views": {"Sight": {"__init__": "(self, view, places, turned)", "__eq__": "(self, other)"}},
+    "wheels": {
+        "Wheel": {"__init__": "(self, faces, lag=0, lead=0)", "digits": "(size=10, lag=0, lead=0)", "may": "(self, due, band=0)", "__eq__": "(self, other)", "__str__": "(self)", "read": "(text)"},
+    },
+    "stamps": {
+        "Stamp": {
+            "__init__": "(self, *wheels)", "digits": "(*sizes)", "__len__": "(self)", "__iter__": "(self)", "__getitem__": "(self, at)", "figures": "(self, number)",
+            "standings": "(self, number)", "prints": "(self, number)", "value": "(self, figures)", "print_of": "(self, figures)", "band": "(self, index, due)",
+            "cell": "(self, sign)", "__eq__": "(self, other)", "__str__": "(self)", "read": "(text)",
+        },
+    },
+    "lines": {
+        "Line": {"__init__": "(self, sheet, stamp, *stations)", "sights_of": "(self, view)", "beside": "(self, *stations)", "stamped": "(self, stamp)", "__eq__": "(self, other)", "MOST_STATIONS": None, "MOST_VIEWS": None},
+    },
+    "sightings": {
+        "Sighting": {"__init__": "(self, number, standing, sights, look)", "__eq__": "(self, other)"},
+        "Alike": {"__init__": "(self, one, other)", "distance": None, "__eq__": "(self, other)"},
     },
 }
 
