@@ -5,7 +5,9 @@ from jumblepost.errors import BadText
 DIGITS = "0123456789"
 SIGNS = "0123456789abcdefghijklmnopqrstuvwxyz"
 MOST_NUMBER = 10 ** 60 - 1
+MOST_FIRST = 10 ** 59 - 1
 MOST_DIGITS = 61
+MOST_RECORD = 200
 
 
 def is_integer(value):
@@ -23,6 +25,11 @@ def is_number(value):
     return is_between(value, 0, MOST_NUMBER)
 
 
+def is_first(value):
+    """Whether a value is a number with at most 59 digits, so that those near it are numbers, too."""
+    return is_between(value, 0, MOST_FIRST)
+
+
 def is_series(value):
     """Whether a value is a list or a tuple."""
     return isinstance(value, (list, tuple))
@@ -36,6 +43,11 @@ def are_integers(values):
 def are_signs(text):
     """Whether all characters of a string are signs."""
     return all([sign in SIGNS for sign in text])
+
+
+def is_record(value):
+    """Whether a value is a tuple with no more items than a record has."""
+    return isinstance(value, tuple) and len(value) <= MOST_RECORD
 
 
 def is_view(value):
@@ -74,9 +86,15 @@ class Words:
 
     def skip(self, word):
         """Goes behind the next word, which must be this one."""
-        if self.coming() != word:
+        if not self.comes(word):
             self.refuse()
+
+    def comes(self, word):
+        """Whether the next word is this one; if so, goes behind it."""
+        if self.coming() != word:
+            return False
         self.at += 1
+        return True
 
     def integer(self, least, most, taken=()):
         """The next word as an integer within these bounds that is not taken yet."""

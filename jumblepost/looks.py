@@ -3,7 +3,8 @@
 from jumblepost.common import SIGNS, is_number, is_view
 from jumblepost.errors import BadValue
 from jumblepost.lines import Line
-from jumblepost.printed import Fitting, number_fits
+from jumblepost.printed import Fitting, figures_fit, fitting_figures
+from jumblepost.stamps import shown_figures
 
 
 def check_line(line):
@@ -66,6 +67,17 @@ def patterns_of(line, look):
     return list(found)
 
 
+def fittings_of(line, look):
+    """For each pattern of the prints that show a look, any value, which figures fit it."""
+    return [fitting_figures(line.stamp, pattern) for pattern in patterns_of(line, look)]
+
+
+def is_shown(line, fittings, number):
+    """Whether a number can show the look that has these fittings."""
+    shown = shown_figures(line.stamp, number)
+    return any([figures_fit(shown, fitting) for fitting in fittings])
+
+
 def ways_shown(line, number):
     """A dict with, for each look that a number can show, a standing and a view that show it."""
     ways = {}
@@ -96,7 +108,7 @@ def looks(line, number):
 def shows(line, number, look):
     """Whether a number can show a look."""
     check_number(line, number)
-    return any([number_fits(line.stamp, pattern, number) for pattern in patterns_of(line, look)])
+    return is_shown(line, fittings_of(line, look), number)
 
 
 def is_look(line, look):

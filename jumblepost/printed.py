@@ -40,14 +40,11 @@ def lets_figure(wheel, fitting, due, band):
     return any([fitting[figure] for figure in wheel.may(due, band)])
 
 
-def number_fits(stamp, pattern, number):
-    """Whether an integer from 0 on fits."""
-    fitting = fitting_figures(stamp, pattern)
-    band = 0
-    for index, due in enumerate(due_figures(stamp.wheels, number)):
-        if not lets_figure(stamp.wheels[index], fitting[index], due, band):
+def figures_fit(shown, fitting):
+    """Whether each wheel may show, of these figures for each wheel, one that fits."""
+    for figures, fits in zip(shown, fitting):
+        if not any([fits[figure] for figure in figures]):
             return False
-        band = stamp.band(index, due)
     return True
 
 

@@ -25,6 +25,16 @@ def due_figures(wheels, number):
     return tuple(figures)
 
 
+def shown_figures(stamp, number):
+    """For each wheel the figures that it may show for an integer from 0 on."""
+    shown = []
+    band = 0
+    for index, due in enumerate(due_figures(stamp.wheels, number)):
+        shown.append(stamp.wheels[index].may(due, band))
+        band = stamp.band(index, due)
+    return shown
+
+
 def check_wheels(wheels):
     """Raises the first error that is due for the wheels of a stamp."""
     if not 1 <= len(wheels) <= MOST_WHEELS:
@@ -81,12 +91,11 @@ class Stamp:
 
     def standings(self, number):
         """Yields the standings of a number, ascending."""
+        if not is_number(number):
+            raise BadValue("number")
         rows = [()]
-        band = 0
-        for index, due in enumerate(self.figures(number)):
-            shown = self.wheels[index].may(due, band)
+        for shown in shown_figures(self, number):
             rows = [row + (figure,) for row in rows for figure in shown]
-            band = self.band(index, due)
         for row in rows:
             yield row
 

@@ -50,8 +50,7 @@ def read_pane(words, widest):
 
 def read_either(words):
     """Whether the last word lets letters lie either way."""
-    if words.coming() == "either":
-        words.skip("either")
+    if words.comes("either"):
         return True
     words.skip("plain")
     return False

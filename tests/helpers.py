@@ -4,12 +4,19 @@ import ast
 import re
 
 from jumblepost import errors
+from jumblepost.forced import Forced
+from jumblepost.jumbles import Jumble
 from jumblepost.lines import Line
 from jumblepost.rows import Row
+from jumblepost.runs import Run
 from jumblepost.sheets import Cell, Panel, Sheet
 from jumblepost.sightings import Alike, Sighting
+from jumblepost.spans import SpanTable
 from jumblepost.stamps import Stamp
 from jumblepost.stations import Station
+from jumblepost.store import Store
+from jumblepost.twins import Twins
+from jumblepost.unread import reader
 from jumblepost.views import Sight
 from jumblepost.wheels import Wheel
 from jumblepost.zones import Chain, Ring, Zone
@@ -29,13 +36,19 @@ def small_sheet():
     return Sheet((Panel(1, 1),), (0,), (Cell(0, 0, 0),))
 
 
+def some_reader():
+    """A reader of a line with one digit."""
+    return reader(Line(small_sheet(), Stamp.digits(5), Station(1, ((0, 1),))), Jumble(1, 1))
+
+
 def objects():
     """An object of each class."""
     return [
         Row(0, 1, 2), Zone(2, 3), Ring(()), Chain(()), Panel(1, 2), Cell(0, 0, 0), small_sheet(),
         Station(3, ((0, 1),)), errors.BadValue("x"), Sight(((0,),), (0, 0, 1), False), Sight(None, 1, [2]),
         Wheel.digits(7), Stamp.digits(7), Line(small_sheet(), Stamp.digits(5), Station(1, ((0, 1),))),
-        Sighting(0, (0,), (), ("0",)), Alike(None, 3),
+        Sighting(0, (0,), (), ("0",)), Alike(None, 3), SpanTable(1, ()), Jumble(1, 2, 3), Run(3, (4,), (5,)),
+        Twins(Jumble(), 0, Run(0), Run(0), (), ()), Forced(Jumble(), None), Store(3), some_reader(),
     ]
 
 
@@ -114,8 +127,10 @@ class Examples:
             self.case.assertEqual(repr(eval(code, self.names)), told, code)
 
     def check_error(self, code, told):
-        """Runs one row of code that raises an error."""
-        fields = tuple([ast.literal_eval(field) for field in told.args])
-        with self.case.assertRaises(getattr(errors, told.func.id), msg=code) as caught:
+        """Runs one row of code that raises an error; of some errors the name alone is told."""
+        name = told.id if isinstance(told, ast.Name) else told.func.id
+        with self.case.assertRaises(getattr(errors, name), msg=code) as caught:
             eval(code, self.names)
-        self.case.assertEqual(tuple(vars(caught.exception).values()), fields, code)
+        if isinstance(told, ast.Call):
+            fields = tuple([ast.literal_eval(field) for field in told.args])
+            self.case.assertEqual(tuple(vars(caught.exception).values()), fields, code)

@@ -86,9 +86,10 @@ PRINTED = '''
 [4, [3, 4, 5, 6], 12, None]
 '''
 
-LINES = '''
+LOOK_SIGHTINGS = '''
 >>> from jumblepost.lines import Line
 >>> from jumblepost.looks import are_alike, common_looks, look_of, looks, next_shown
+>>> from jumblepost.look_sightings import look_alike
 >>> from jumblepost.sightings import alike
 >>> sheet = Sheet((Panel(8, 8),), (0,), (Cell(0, 0, 0, 2), Cell(0, 0, 6, 2), Cell(0, 0, 3, 2)))
 >>> three = Wheel(("0", "1", "2"))
@@ -101,10 +102,107 @@ LINES = '''
 >>> [next_shown(broad, ("10",), 2), next_shown(broad, ("10",), 20), next_shown(broad, ("3",), 0)]
 [9, 28, None]
 >>> paper = alike(broad, 9, 10)
->>> [paper.distance, paper.one.standing, paper.other.sights[0].view]
-[1, (0, 0, 1), ((2, 1),)]
+>>> [paper.distance, paper.one.standing, paper.other.sights[0].view, look_alike(paper, broad), look_alike(paper, narrow)]
+[1, (0, 0, 1), ((2, 1),), True, False]
 >>> Line(sheet, Stamp(three, three), Station(10, ((3, 7),)))
 raises BadLine('cells')
+'''
+
+LOOK_SPANS = '''
+>>> from jumblepost.distances import alike_at, alike_distances
+>>> from jumblepost.links import links
+>>> from jumblepost.look_spans import look_table
+>>> from jumblepost.spans import SpanTable, nearest_pair, span, span_table
+>>> [links(((0, 1), (4,)), ((1, 2), (3,))), links(((0,),), ((),)), span(narrow), span(broad), alike_distances(narrow, 10), alike_at(narrow, 4)]
+[((0, 1), (1, 2), (4, 3)), None, 3, 1, (3, 6, 9), None]
+>>> table = span_table(narrow)
+>>> [table.span, len(table.tables), table.tables[0][2][0], look_table(table, narrow), look_table(SpanTable(4, table.tables), narrow)]
+[3, 1, (((0, 0, 0, 0, ''), 0),), True, False]
+>>> [table.tables[0][2][1], look_table(SpanTable(2, table.tables), narrow)]
+[(((0, 0, 0, 0, ''), 0), ((0, 0, 0, 1, ''), 3), ((0, 0, 1, 1, ''), 3)), True]
+>>> plain = Wheel(("pa", "qa", "ra", "sa"))
+>>> low = Wheel(("pa", "qa", "ra", "pb"))
+>>> high = Wheel(("pa", "pb", "qa", "ra"))
+>>> bars = Station(4, ((0, 1), (2, 3)))
+>>> four = Sheet((Panel(4, 4),), (0,), (Cell(0, 0, 0), Cell(0, 0, 1), Cell(0, 0, 2), Cell(0, 0, 3)))
+>>> [span(Line(four, Stamp(low, plain), bars)), span(Line(four, Stamp(plain, high), bars)), span(Line(four, Stamp(low, high), bars))]
+[3, 4, 1]
+>>> pair = nearest_pair(Line(four, Stamp(low, high), bars))
+>>> [pair.one.number, pair.other.number, pair.one.look]
+[3, 4, ('p', 'p')]
+'''
+
+HEADS = '''
+>>> from jumblepost.heads import begun_run, head_end
+>>> from jumblepost.jumbles import Jumble
+>>> from jumblepost.runs import Run
+>>> lossy, unread = Jumble(1, 1, lost=1), Jumble(1, 1, apart=2)
+>>> [head_end(lossy, (1, 3, 2)), head_end(lossy, (1, 3, 4)), begun_run(lossy, (1, 0, 4, 3, 7)) == Run(0, (1, 0, 4, 3, 7), (2, 6))]
+[None, 2, True]
+>>> [begun_run(unread, (None, 2, None)) == Run(0, (0, 2, 1)), head_end(unread, (None, None))]
+[True, 1]
+'''
+
+STORE = '''
+>>> from jumblepost.store import Store
+>>> store = Store(2)
+>>> [store.put(1), store.put(2), store.put(0), store.put(3), store.held, store.last, len(store)]
+[None, None, 0, 1, (2, 3), 1, 2]
+>>> store.put(0)
+raises Unfit(4)
+'''
+
+UNREAD = '''
+>>> from jumblepost.unread import reader, readings
+>>> digits = Line(Sheet((Panel(1, 1),), (0,), (Cell(0, 0, 0),)), Stamp.digits(10), Station(1, ((0, 1),)))
+>>> loss = reader(digits, Jumble(1, 1, lost=1), first=8)
+>>> [loss.take_all(("9",), ("1",)), loss.missing, loss.window, loss.KIND]
+[((0, 9), (1, 11)), (8,), (10, 13), 'loss']
+>>> loss.take(("2",))
+raises Unfit(2)
+>>> [loss.take(("0",)), loss.take(("2",)), loss.last, loss.held, loss.missing]
+[((2, 10),), ((3, 12),), 11, (12,), (8,)]
+>>> list(readings(digits, Jumble(1, 1, apart=2), (None, ("1",), None, ("2",))))
+[(0, 0), (1, 1), (2, 3), (3, 2)]
+>>> reader(digits, Jumble(5, 6))
+raises NotForced
+'''
+
+# What the document uses here is imported, as it says, from the file of the heading.
+HISTORIES = '''
+>>> from jumblepost.histories import count_histories, dead_end, is_history, possible_numbers, walk_histories
+>>> line = Line(Sheet((Panel(1, 1),), (0,), (Cell(0, 0, 0),)), Stamp(Wheel(("a", "b"))), Station(1, ((0, 1),)))
+>>> a, b, jumble = ("a",), ("b",), Jumble(early=2, late=1)
+>>> [count_histories(line, jumble, (a, b)), list(walk_histories(line, jumble, (a, b, b)))]
+[2, [(0, 1, 3), (0, 3, 1)]]
+>>> [possible_numbers(line, jumble, (a, b, b, a)), dead_end(line, jumble, (a, a, a, b)), is_history(line, jumble, (a, b, b), (2, 1, 3))]
+[((0,), (1, 3), (1, 3), (2,)), 2, False]
+'''
+
+# The examples that stand in running text under the headings of jumbles and runs.
+JUMBLES = '''
+>>> from jumblepost.jumbles import Jumble
+>>> Jumble(0, 0, 1).within(Jumble(2, 2, 1))
+False
+>>> Jumble(0, 5).within(Jumble(1, 1))
+True
+>>> [Jumble(2, 2).need, Jumble(1, 1, 1).need, Jumble(1, 1, 2, True).need, Jumble(3, 0).need, Jumble(1, 2, 0, False, 3).need, Jumble(1, 2, 0, False, 2).need]
+[4, 4, 6, 1, 4, None]
+>>> Jumble(1, 0, 0, False, 2)
+raises BadValue("apart")
+>>> Jumble.read("early 1 late 2 lost 0")
+raises BadText(0, 5)
+'''
+
+RUNS = '''
+>>> from jumblepost.runs import Run, faults, fits
+>>> run = Run(2, (4, 3, 3), (5,))
+>>> [run.rank(2), run.rank(4), run.rank(5), run.where(3), list(faults(run, Jumble(2, 2))), fits(run, Jumble(3, 3, 1, True))]
+[5, 4, 2, (3, 4), [('again', 4), ('lost', 5), ('early', 2), ('late', 5)], True]
+>>> str(run)
+'begin 2 numbers 4 3 3 lost 5'
+>>> Run(2, (2,), (1,))
+raises BadRun("lost", 0)
 '''
 
 
@@ -122,13 +220,10 @@ class TestExamples(unittest.TestCase):
     def test_views(self):
         Examples(self).run(VIEWS)
 
-    def test_wheels_stamps_printed_lines(self):
+    def test_those_behind_views(self):
         examples = Examples(self)
-        examples.run(VIEWS)
-        examples.run(WHEELS)
-        examples.run(STAMPS)
-        examples.run(PRINTED)
-        examples.run(LINES)
+        for text in (VIEWS, WHEELS, STAMPS, PRINTED, LOOK_SIGHTINGS, LOOK_SPANS, JUMBLES, RUNS, HEADS, STORE, UNREAD, HISTORIES):
+            examples.run(text)
 
 
 if __name__ == "__main__":

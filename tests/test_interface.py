@@ -27,6 +27,22 @@ FUNCTIONS = {
     "sightings": {
         "sighting": "(line, number, look)", "sightings": "(line, number)", "alike": "(line, one, other)",
     },
+    "look_sightings": {"look_sighting": "(paper, line)", "look_alike": "(paper, line)"},
+    "links": {"links": "(view, other)"},
+    "spans": {"span_table": "(line)", "span": "(line)", "nearest_pair": "(line)"},
+    "distances": {"alike_at": "(line, distance)", "alike_distances": "(line, most)"},
+    "look_spans": {"look_table": "(paper, line)"},
+    "runs": {"faults": "(run, jumble, unread=())", "fits": "(run, jumble, unread=())"},
+    "twins": {"twins": "(line, jumble)"},
+    "forced": {"decide": "(line, jumble)", "is_forced": "(line, jumble)"},
+    "look_forced": {"look_twins": "(paper, line)", "look_forced": "(paper, line)"},
+    "heads": {"begun_run": "(jumble, head)", "head_end": "(jumble, head)"},
+    "unread": {"reader": "(line, jumble, first=0)", "readings": "(line, jumble, record, first=0)"},
+    "histories": {
+        "count_histories": "(line, jumble, record, first=0)", "possible_numbers": "(line, jumble, record, first=0)",
+        "walk_histories": "(line, jumble, record, first=0)", "dead_end": "(line, jumble, record, first=0)",
+        "is_history": "(line, jumble, record, history, first=0)",
+    },
 }
 
 CLASSES = {
@@ -67,7 +83,31 @@ CLASSES = {
         "Sighting": {"__init__": "(self, number, standing, sights, look)", "__eq__": "(self, other)"},
         "Alike": {"__init__": "(self, one, other)", "distance": None, "__eq__": "(self, other)"},
     },
+    "spans": {"SpanTable": {"__init__": "(self, span, tables)", "__eq__": "(self, other)"}},
+    "jumbles": {
+        "Jumble": {
+            "__init__": "(self, early=0, late=0, lost=0, again=False, apart=0)", "spread": None, "need": None, "plain": None, "MOST": None,
+            "within": "(self, other)", "__eq__": "(self, other)", "__str__": "(self)", "read": "(text)",
+        },
+    },
+    "runs": {
+        "Run": {
+            "__init__": "(self, begin, numbers=(), lost=())", "letter": "(self, place)", "rank": "(self, place)", "where": "(self, number)",
+            "stretch": "(self, place, many)", "__eq__": "(self, other)", "__str__": "(self)", "read": "(text)",
+        },
+    },
+    "twins": {"Twins": {"__init__": "(self, jumble, place, one, other, unread, alikes)", "__eq__": "(self, other)", "__bool__": "(self)"}},
+    "forced": {"Forced": {"__init__": "(self, jumble, table)", "__eq__": "(self, other)"}},
+    "store": {"Store": {"__init__": "(self, late)", "put": "(self, number)", "__len__": "(self)"}},
+    "readers": {
+        "Reader": {"KIND": None, "window": None, "take": "(self, look)", "take_all": "(self, *looks)", "anew": "(self)"},
+        "PlainReader": {"KIND": None}, "LossReader": {"KIND": None}, "AgainReader": {"KIND": None},
+    },
+    "unread": {"UnreadReader": {"KIND": None, "window": None}},
 }
+
+# All other classes stand below none.
+BASES = {"PlainReader": "Reader", "LossReader": "Reader", "AgainReader": "Reader", "UnreadReader": "Reader"}
 
 
 class TestInterface(unittest.TestCase):
@@ -87,7 +127,8 @@ class TestInterface(unittest.TestCase):
             for name, methods in names.items():
                 told = vars(module)[name]
                 self.assertTrue(inspect.isclass(told), name)
-                self.assertEqual((told.__module__, told.__bases__), (module.__name__, (object,)))
+                self.assertEqual(told.__module__, module.__name__)
+                self.assertEqual([base.__name__ for base in told.__bases__], [BASES.get(name, "object")])
                 for method, signature in methods.items():
                     self.assertIn(method, vars(told), name)
                     if signature is not None:

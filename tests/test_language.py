@@ -32,6 +32,8 @@ NODES_BARRED = (
     ast.Try, ast.With, ast.Match, ast.NamedExpr, ast.AnnAssign, ast.Set, ast.SetComp, ast.Delete, ast.Assert,
     ast.YieldFrom, ast.Import, ast.BitOr, ast.BitXor)
 LOCALS = (ast.FunctionDef, ast.ClassDef)
+# The document itself calls a parameter like a function of the same file.
+DOCUMENTED = {("spans", "span")}
 
 
 def functions(tree):
@@ -222,7 +224,7 @@ class TestNames(unittest.TestCase):
             barred = set(imported(tree)) | {node.name for node in classes(tree)}
             inner = [told for node in functions(tree) for told in bound_names(node) if told[0] != node.name]
             self.assertEqual([told for told in inner if told[0] in barred], [], name)
-            self.assertEqual([told for told in inner if told[0] in own_names(tree)], [], name)
+            self.assertEqual([told for told in inner if told[0] in own_names(tree) and (name, told[0]) not in DOCUMENTED], [], name)
 
     def test_double_underscores(self):
         for name, tree in TREES.items():
@@ -308,6 +310,106 @@ class TestCalls(unittest.TestCase):
                 if isinstance(node, ast.Call) and isinstance(node.func, ast.Name):
                     if node.func.id in lazy + tuple(told.name for told in generators()):
                         self.assertIn(id(node), fine, (name, node.lineno))
+
+
+COMPREHENSIONS = (ast.ListComp, ast.DictComp)
+MODIFYING = ("append", "clear", "extend", "insert", "pop", "remove", "reverse", "setdefault", "update", "sort")
+# What is first asked of builtins: a list, where a class has an __eq__ (L7).
+TAKES_LISTS = ("any", "all", "min", "max", "sum", "sorted")
+
+
+def iterated(node):
+    """What a loop or a comprehension goes over, without enumerate, zip, items and the like around it."""
+    if isinstance(node, ast.Call):
+        if isinstance(node.func, ast.Name) and node.func.id in ("enumerate", "zip", "reversed"):
+            return [told for arg in node.args for told in iterated(arg)]
+        if isinstance(node.func, ast.Attribute) and node.func.attr in ("items", "keys", "values"):
+            return [ast.dump(node.func.value)]
+        return []
+    return [ast.dump(node)] if isinstance(node, (ast.Name, ast.Attribute, ast.Subscript)) else []
+
+
+def modified(node):
+    """What is modified in some rows by a method of builtin values, or by an item."""
+    found = []
+    for told in ast.walk(node):
+        if isinstance(told, ast.Call) and isinstance(told.func, ast.Attribute) and told.func.attr in MODIFYING:
+            found.append(ast.dump(told.func.value))
+        if isinstance(told, ast.Subscript) and isinstance(told.ctx, ast.Store):
+            found.append(ast.dump(told.value))
+    return [text.replace("Store()", "Load()") for text in found]
+
+
+class TestLoops(unittest.TestCase):
+
+    def test_nothing_is_changed_that_is_iterated_over(self):
+        for name, tree in TREES.items():
+            for node in ast.walk(tree):
+                if isinstance(node, ast.For):
+                    changed = [text for row in node.body for text in modified(row)]
+                    self.assertEqual(set(iterated(node.iter)) & set(changed), set(), (name, node.lineno))
+
+    def test_names_in_inner_comprehensions(self):
+        for name, tree in TREES.items():
+            for function in functions(tree):
+                barred = {told.id for told in plain_stores(function)} | set(parameters(function))
+                for node in inner_comprehensions(function):
+                    targets = [told for rule in node.generators for told in ast.walk(rule.target) if isinstance(told, ast.Name)]
+                    self.assertEqual({told.id for told in targets} & barred - {"_"}, set(), (name, node.lineno))
+
+    def test_lists_for_builtins(self):
+        for name, tree in TREES.items():
+            for node in ast.walk(tree):
+                if isinstance(node, ast.Call) and isinstance(node.func, ast.Name) and node.func.id in TAKES_LISTS:
+                    self.assertNotIsInstance(node.args[0], ast.GeneratorExp, (name, node.lineno))
+
+
+def inner_comprehensions(function):
+    """The comprehensions that stand in other ones."""
+    for node in ast.walk(function):
+        if isinstance(node, COMPREHENSIONS):
+            for child in ast.iter_child_nodes(node):
+                yield from [told for told in ast.walk(child) if isinstance(told, COMPREHENSIONS)]
+
+
+def plain_stores(function):
+    """The names that a function assigns outside of its comprehensions."""
+    waiting = list(ast.iter_child_nodes(function))
+    while waiting:
+        node = waiting.pop()
+        if isinstance(node, COMPREHENSIONS):
+            continue
+        if isinstance(node, ast.Name) and isinstance(node.ctx, ast.Store):
+            yield node
+        waiting.extend(ast.iter_child_nodes(node))
+
+
+class TestClasses(unittest.TestCase):
+
+    def test_class_methods(self):
+        """cls is called, or asked for a class value; a method with a star has a plain first parameter."""
+        for name, tree in TREES.items():
+            for node in functions(tree):
+                if [told for told in node.decorator_list if told.id == "classmethod"]:
+                    fine = [told.func for told in ast.walk(node) if isinstance(told, ast.Call)]
+                    fine += [told.value for told in ast.walk(node) if isinstance(told, ast.Attribute)]
+                    asked = [told for told in ast.walk(node) if isinstance(told, ast.Name) and told.id == "cls"]
+                    self.assertTrue(asked and all(told in fine for told in asked), (name, node.name))
+
+    def test_properties_and_operators_only_read(self):
+        for name, tree in TREES.items():
+            for node in functions(tree):
+                reads = [told for told in node.decorator_list if told.id == "property"] or node.name in DUNDERS - {"__init__"}
+                if reads:
+                    stores = [told for told in ast.walk(node) if isinstance(told, (ast.Attribute, ast.Subscript)) and isinstance(told.ctx, ast.Store)]
+                    self.assertEqual((stores, modified(node)), ([], []), (name, node.name))
+
+    def test_class_values(self):
+        values = [told for tree in TREES.values() for node in classes(tree) for told in node.body if isinstance(told, ast.Assign)]
+        every = set().union(*[attributes_set(tree) for tree in TREES.values()])
+        for told in values:
+            self.assertIsInstance(told.value, ast.Constant)
+            self.assertNotIn(told.targets[0].id, every | methods())
 
 
 class TestDoubleUnderscoreMethods(unittest.TestCase):
