@@ -46,15 +46,16 @@ class UnreadReader(Reader):
     def goes_on(self, number):
         """Whether a run that fits goes on with this number: what is not told can still come in time.
 
-        The least number that is not told is that of a waiting letter in such a run.
+        The least number that is not told can be that of a waiting letter, if this is not too early for
+        it; it is not too late, as all letters ahead of the waiting one were in time.
         """
         early, late = bounds_of(self.jumble)
         untold = least_untold(self.least_open(self.last), self.held + (number,))
-        if self.waiting is None:
-            return untold[0] >= self.first + self.places + 1 - late
-        if not untold[0] - early <= self.first + self.waiting <= untold[0] + late:
-            return False
-        return untold[1] >= self.first + self.places + 1 - late
+        if self.waiting is not None:
+            if untold[0] > self.first + self.waiting + early:
+                return False
+            untold = untold[1:]
+        return untold[0] >= self.first + self.places + 1 - late
 
     def counted(self, held, waiting, told):
         """Counts one letter more, tells a waiting one if it is known now, and releases numbers."""

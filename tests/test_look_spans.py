@@ -47,6 +47,9 @@ def changed_levels(level, rand):
     yield from [list(level), dict(level), None, ()]
     for state in itertools.product((0, 2), (1,), (0, 1), (0, 1), ("", "x", "xy")):
         yield tuple(sorted(level + ((state, rand.randrange(9)),)))
+    # One more state, far behind the others, so that no step leads to it.
+    for state in ((3, 0, 0, 0), (2, 3, 0, 0), (2, 2, 2, 0), (2, 2, 1, 2), (2, 2, True, 1), (2, 2, 1, 1)):
+        yield level + (((*state, "~" * (len(level[0][0][4]) if level else 0)), 10 ** 70),)
 
 
 def changed_tables(table, rand):

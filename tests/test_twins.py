@@ -146,6 +146,22 @@ class TestTable(unittest.TestCase):
                     self.assertEqual(twins(line, jumble), twins(line, jumble))
         self.assertEqual(sorted(rows), [1, 2, 3, 4, 5, 6, 7])
 
+    def test_pairs_above_0(self):
+        """Lines on which the nearest pair is not that of 0."""
+        rows = {}
+        for figure, distance in itertools.product((1, 3, 4), (1, 2, 3, 4, 5)):
+            line = wide_lines.near_line(figure, distance)
+            self.assertEqual(span(line), distance)
+            for jumble in small_jumbles(4, 3):
+                if jumble.need is None or distance < jumble.need:
+                    row = self.check(line, jumble, distance)
+                    rows[row] = rows.get(row, 0) + 1
+                    if row > 3 and distance < 5:
+                        self.assertEqual(twins(line, jumble).one.begin, figure)
+                else:
+                    self.assertIsNone(twins(line, jumble))
+        self.assertEqual(sorted(rows), [1, 2, 3, 4, 5, 6, 7])
+
     def test_by_hand(self):
         """One wheel of three faces, so the span is 3: rows of the table, written out."""
         line = SEEN[3]

@@ -32,6 +32,14 @@ def sliding_line(sizes, lags, order, *stations):
     return Line(sheet, stamp, *[Station(width, (pane,)) for width, pane in stations])
 
 
+def near_line(figure, distance):
+    """A wheel of ten faces, of which two alone look alike: a figure and the one so far above it."""
+    signs = [str(at) for at in range(10)]
+    signs[figure + distance] = signs[figure]
+    stamp = Stamp(Wheel([sign + str(at) for at, sign in enumerate(signs)]))
+    return Line(strip(stamp), stamp, Station(2, ((0, 1),)))
+
+
 def just_4000():
     """Lines with tables of just 4,000 states."""
     return [
@@ -41,8 +49,9 @@ def just_4000():
 
 
 def above_4000():
-    """Lines with tables of 4,002 to 4,006 states, each with the number."""
+    """Lines with tables of 4,001 to 4,006 states, each with the number."""
     return [
+        (sliding_line((9, 10, 8, 5), (0, 2, 0, 0), (2, 0, 3, 1), (6, (1, 4))), 4001),
         (sliding_line((10, 6, 2, 5), (0, 0, 0, 2), (3, 0, 1, 2), (6, (3, 6)), (5, (3, 4)), (7, (5, 6))), 4002),
         (sliding_line((8, 4, 6, 7), (0, 0, 0, 0), (1, 2, 0, 3), (7, (1, 6)), (7, (1, 3))), 4002),
         (sliding_line((9, 3, 4), (0, 6, 0), (1, 2, 0), (5, (1, 4)), (6, (1, 5)), (3, (1, 2))), 4004),
