@@ -109,3 +109,13 @@ class Words:
         """Tells the next word if there is one too many."""
         if self.coming() is not None:
             self.refuse()
+
+
+def few_of(things, most):
+    """All tuples of one to so many of some things, each in their order, by length and then ascending."""
+    found = []
+    rows = [(at,) for at in range(len(things))]
+    for _ in range(most):
+        found.extend(rows)
+        rows = [(*row, at) for row in rows for at in range(row[-1] + 1, len(things))]
+    return [tuple([things[at] for at in row]) for row in found]

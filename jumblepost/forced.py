@@ -15,18 +15,29 @@ class Forced:
         return isinstance(other, Forced) and self.jumble == other.jumble and self.table == other.table
 
 
+def is_met(jumble, least):
+    """Whether a span meets the need of a jumble."""
+    return jumble.need is not None and least >= jumble.need
+
+
+def decided(line, jumble, table):
+    """What decide returns for a line with this SpanTable."""
+    if jumble.need is None:
+        return unread_twins(line, jumble)
+    if is_met(jumble, table.span):
+        return Forced(jumble, table)
+    return twins_at(line, jumble, table.span)
+
+
 def decide(line, jumble):
     """Forced if a line and a jumble are forced, otherwise their Twins."""
     check_jumble(line, jumble)
-    if jumble.need is None:
-        return unread_twins(line, jumble)
-    table = span_table(line)
-    if table.span < jumble.need:
-        return twins_at(line, jumble, table.span)
-    return Forced(jumble, table)
+    # No table, which can have too many states, is needed where no span is enough.
+    table = None if jumble.need is None else span_table(line)
+    return decided(line, jumble, table)
 
 
 def is_forced(line, jumble):
     """Whether a line and a jumble are forced."""
     check_jumble(line, jumble)
-    return jumble.need is not None and span_table(line).span >= jumble.need
+    return jumble.need is not None and is_met(jumble, span_table(line).span)

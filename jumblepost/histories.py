@@ -9,28 +9,32 @@ MOST_SPREAD = 12
 MOST_STATES = 4000
 
 
+def keeps_all(jumble):
+    """Whether a jumble has no losses, and no numbers that come again."""
+    return jumble.lost == 0 and not jumble.again
+
+
 def check_rule(line, jumble):
     """Raises the errors for values that are no line and no jumble of this part."""
     check_jumble(line, jumble)
-    if jumble.lost > 0 or jumble.again:
+    if not keeps_all(jumble):
         raise BadValue("jumble")
 
 
-def lets_none(jumble, places, place):
-    """Whether a letter may be unread behind others that are at these places."""
-    return jumble.apart > 0 and (len(places) == 0 or place - places[-1] >= jumble.apart)
+def is_item(line, jumble, ahead, item):
+    """Whether an item, any value, can stand behind the items of a record."""
+    if item is not None:
+        return is_shaped(line, item)
+    # Unread letters lie at least so far apart; with 0 there is none.
+    return jumble.apart > 0 and None not in ahead[max(0, len(ahead) - jumble.apart + 1):]
 
 
-def check_items(line, jumble, record):
-    """Raises the error for the first item of a record that cannot stand at its place."""
-    unread = []
+def wrong_item(line, jumble, record):
+    """The place of the first item of a record that cannot stand there, None if all can."""
     for place, item in enumerate(record):
-        if item is None:
-            if not lets_none(jumble, unread, place):
-                raise BadRecord(place)
-            unread.append(place)
-        elif not is_shaped(line, item):
-            raise BadRecord(place)
+        if not is_item(line, jumble, record[:place], item):
+            return place
+    return None
 
 
 def check_record(line, jumble, record, first):
@@ -42,7 +46,9 @@ def check_record(line, jumble, record, first):
         raise BadValue("first")
     if jumble.spread > MOST_SPREAD:
         raise TooMany("spread")
-    check_items(line, jumble, record)
+    place = wrong_item(line, jumble, record)
+    if place is not None:
+        raise BadRecord(place)
 
 
 def near_numbers(jumble, first, place):
@@ -51,16 +57,13 @@ def near_numbers(jumble, first, place):
     return list(range(least, first + place + jumble.early + 1))
 
 
-def open_numbers(line, jumble, record, first):
-    """For each place of a record the numbers near enough to it that can show its look, ascending."""
-    found = []
-    for place, item in enumerate(record):
-        numbers = near_numbers(jumble, first, place)
-        if item is not None:
-            fittings = fittings_of(line, item)
-            numbers = [number for number in numbers if is_shown(line, fittings, number)]
-        found.append(numbers)
-    return found
+def open_at(line, jumble, first, place, item):
+    """The numbers near enough to a place of a record that can show its item, ascending."""
+    numbers = near_numbers(jumble, first, place)
+    if item is None:
+        return numbers
+    fittings = fittings_of(line, item)
+    return [number for number in numbers if is_shown(line, fittings, number)]
 
 
 def moves_at(jumble, first, place, numbers, state):
@@ -76,42 +79,40 @@ def moves_at(jumble, first, place, numbers, state):
 
 
 class Chart:
-    """The states behind each number of places of a record, and how many rows lead to each of them."""
+    """The states behind each number of places of a record, and how rows of numbers lead to them.
 
-    def __init__(self, line, jumble, record, first):
+    levels has for each number of places a dict that tells how many rows lead to each state, leads
+    for each place a dict that tells for each state the pairs (number, state behind it).
+    """
+
+    def __init__(self, jumble, first, levels=(), leads=()):
         self.jumble = jumble
         self.first = first
-        self.numbers = open_numbers(line, jumble, record, first)
-        self.levels = [{(): 1}]
-        room = MOST_STATES - 1
-        for place in range(len(record)):
-            level = self.level_behind(place, room)
-            room -= len(level)
-            self.levels.append(level)
+        self.levels = ({(): 1}, *levels)
+        self.leads = leads
 
-    def moves(self, place, state):
-        """The pairs (number, state behind it) for each number that can come at a place."""
-        return moves_at(self.jumble, self.first, place, self.numbers[place], state)
-
-    def level_behind(self, place, most):
-        """The states behind a place; raises if there are more than so many."""
+    def longer(self, numbers):
+        """The chart with one place more, at which one of these numbers comes."""
+        place = len(self.leads)
+        moves = {state: moves_at(self.jumble, self.first, place, numbers, state) for state in self.levels[-1]}
         level = {}
-        for state, many in self.levels[place].items():
-            for _, behind in self.moves(place, state):
+        for state, many in self.levels[-1].items():
+            for _, behind in moves[state]:
                 level[behind] = level.get(behind, 0) + many
-            if len(level) > most:
-                raise TooMany("states")
-        return level
+        if len(level) + sum([len(ahead) for ahead in self.levels]) > MOST_STATES:
+            raise TooMany("states")
+        return Chart(self.jumble, self.first, (*self.levels[1:], level), (*self.leads, moves))
+
+    def total(self):
+        """How many rows keep the rules for all places."""
+        return sum(list(self.levels[-1].values()))
 
     def behinds(self):
         """For each level a dict that tells in how many ways each state goes on to a history."""
         found = [{state: 1 for state in self.levels[-1]}]
-        for place in range(len(self.levels) - 2, -1, -1):
+        for moves in self.leads[::-1]:
             behind = found[-1]
-            found.append({
-                state: sum([behind[after] for _, after in self.moves(place, state)])
-                for state in self.levels[place]
-            })
+            found.append({state: sum([behind[after] for _, after in moves[state]]) for state in moves})
         return found[::-1]
 
     def live_moves(self):
@@ -119,32 +120,50 @@ class Chart:
         ways = self.behinds()
         return [
             {
-                state: [move for move in self.moves(place, state) if ways[place + 1][move[1]] > 0]
-                for state in self.levels[place] if ways[place][state] > 0
+                state: [move for move in moves[state] if ways[place + 1][move[1]] > 0]
+                for state in moves if ways[place][state] > 0
             }
-            for place in range(len(self.numbers))
+            for place, moves in enumerate(self.leads)
         ]
+
+    def possible(self):
+        """For each place the numbers that some history has there, ascending."""
+        return tuple([
+            tuple(sorted(set([number for moves in table.values() for number, _ in moves])))
+            for table in self.live_moves()
+        ])
+
+
+def chart_of(line, jumble, record, first):
+    """The Chart of a record; raises if it has too many states."""
+    chart = Chart(jumble, first)
+    for place, item in enumerate(record):
+        chart = chart.longer(open_at(line, jumble, first, place, item))
+    return chart
+
+
+def dead_place(chart):
+    """The least place up to which a chart has no row, None if its record has a history."""
+    empty = [place for place, level in enumerate(chart.levels[1:]) if len(level) == 0]
+    return min(empty, default=None)
 
 
 def count_histories(line, jumble, record, first=0):
     """The number of histories of a record."""
     check_record(line, jumble, record, first)
-    return sum(list(Chart(line, jumble, record, first).levels[-1].values()))
+    return chart_of(line, jumble, record, first).total()
 
 
 def possible_numbers(line, jumble, record, first=0):
     """For each place of a record the numbers that some history has there, ascending."""
     check_record(line, jumble, record, first)
-    return tuple([
-        tuple(sorted(set([number for moves in table.values() for number, _ in moves])))
-        for table in Chart(line, jumble, record, first).live_moves()
-    ])
+    return chart_of(line, jumble, record, first).possible()
 
 
 def walk_histories(line, jumble, record, first=0):
     """Yields all histories of a record, ascending."""
     check_record(line, jumble, record, first)
-    live = Chart(line, jumble, record, first).live_moves()
+    live = chart_of(line, jumble, record, first).live_moves()
     waiting = [((), ())]
     while waiting:
         row, state = waiting.pop()
@@ -158,8 +177,7 @@ def walk_histories(line, jumble, record, first=0):
 def dead_end(line, jumble, record, first=0):
     """The least place up to which a record has no history, None if it has one."""
     check_record(line, jumble, record, first)
-    empty = [place for place, level in enumerate(Chart(line, jumble, record, first).levels) if len(level) == 0]
-    return empty[0] - 1 if len(empty) > 0 else None
+    return dead_place(chart_of(line, jumble, record, first))
 
 
 def is_history(line, jumble, record, history, first=0):

@@ -47,6 +47,19 @@ def jumble_words(jumble):
     return ["early", jumble.early, "late", jumble.late] + lost + again + apart
 
 
+def read_jumble(words):
+    """The early, late, lost, again and apart that the last words tell."""
+    words.skip("early")
+    early = words.integer(0, Jumble.MOST)
+    words.skip("late")
+    late = words.integer(0, Jumble.MOST)
+    lost = words.integer(1, Jumble.MOST) if words.comes("lost") else 0
+    again = words.comes("again")
+    apart = words.integer(1, most_apart(early, late)) if words.comes("apart") else 0
+    words.finish()
+    return early, late, lost, again, apart
+
+
 class Jumble:
     """How early and late letters come, how many are lost, whether some come again or are not read."""
 
@@ -104,13 +117,5 @@ class Jumble:
     @classmethod
     def read(cls, text):
         """The jumble whose text this is."""
-        words = Words(text)
-        words.skip("early")
-        early = words.integer(0, cls.MOST)
-        words.skip("late")
-        late = words.integer(0, cls.MOST)
-        lost = words.integer(1, cls.MOST) if words.comes("lost") else 0
-        again = words.comes("again")
-        apart = words.integer(1, most_apart(early, late)) if words.comes("apart") else 0
-        words.finish()
+        early, late, lost, again, apart = read_jumble(Words(text))
         return cls(early, late, lost, again, apart)

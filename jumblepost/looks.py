@@ -79,9 +79,10 @@ def is_shown(line, fittings, number):
 
 
 def ways_shown(line, number):
-    """A dict with, for each look that a number can show, a standing and a view that show it."""
+    """A dict with, for each look that an integer from 0 on can show, a standing and a view that show it."""
     ways = {}
-    for standing in line.stamp.standings(number):
+    # Equal figures are due a cycle further on, where the stamp may take no number any more.
+    for standing in line.stamp.standings(number % line.stamp.cycle):
         text = line.stamp.print_of(standing)
         for view in line.views:
             look = signs_seen(view, text)
@@ -117,11 +118,16 @@ def is_look(line, look):
     return any([Fitting(line.stamp, pattern).total() > 0 for pattern in patterns_of(line, look)])
 
 
+def shared_looks(line, one, other):
+    """The looks that two integers from 0 on can both show, ascending."""
+    ways = ways_shown(line, other)
+    return tuple(sorted([look for look in ways_shown(line, one) if look in ways]))
+
+
 def common_looks(line, one, other):
     """The looks that two numbers can both show, ascending."""
     check_numbers(line, one, other)
-    ways = ways_shown(line, other)
-    return tuple([look for look in looks(line, one) if look in ways])
+    return shared_looks(line, one, other)
 
 
 def are_alike(line, one, other):

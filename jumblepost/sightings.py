@@ -1,7 +1,7 @@
 """Sightings: how a number can show a look."""
 
 from jumblepost.common import is_integer
-from jumblepost.looks import check_number, check_numbers, common_looks, is_shaped, looks, ways_shown
+from jumblepost.looks import check_number, check_numbers, is_shaped, looks, ways_shown
 
 
 class Sighting:
@@ -62,10 +62,17 @@ def sightings(line, number):
         yield sighting_by(line, number, look, ways)
 
 
+def alike_of(line, one, other):
+    """An Alike of two integers from 0 on with the least look that both can show, None if there is none."""
+    ways = ways_shown(line, one)
+    far_ways = ways_shown(line, other)
+    look = min([told for told in ways if told in far_ways], default=None)
+    if look is None:
+        return None
+    return Alike(sighting_by(line, one, look, ways), sighting_by(line, other, look, far_ways))
+
+
 def alike(line, one, other):
     """An Alike of two numbers with the least look that both can show, None if they are not alike."""
     check_numbers(line, one, other)
-    common = common_looks(line, one, other)
-    if len(common) == 0:
-        return None
-    return Alike(sighting(line, one, common[0]), sighting(line, other, common[0]))
+    return alike_of(line, one, other)

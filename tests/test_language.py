@@ -29,11 +29,14 @@ WORDS_BARRED = (
 PARTS_BARRED = ("_wall", "_WallAttr", "dataclass", "overload", "contextmanager", "Meta", "metaclass=")
 NODES_BARRED = (
     ast.GeneratorExp, ast.Lambda, ast.Global, ast.Nonlocal, ast.AsyncFunctionDef, ast.Await, ast.Div, ast.MatMult,
-    ast.Try, ast.With, ast.Match, ast.NamedExpr, ast.AnnAssign, ast.Set, ast.SetComp, ast.Delete, ast.Assert,
+    ast.With, ast.Match, ast.NamedExpr, ast.AnnAssign, ast.Set, ast.SetComp, ast.Delete, ast.Assert,
     ast.YieldFrom, ast.Import, ast.BitOr, ast.BitXor)
 LOCALS = (ast.FunctionDef, ast.ClassDef)
 # The document itself calls a parameter like a function of the same file.
 DOCUMENTED = {("spans", "span")}
+# Methods that it calls as attributes of other classes are called.
+DOCUMENTED_METHODS = {"begin", "table"}
+LIBRARY = {"math": ("gcd", "lcm", "isqrt", "comb", "perm", "factorial"), "heapq": ("heappush", "heappop", "heapify")}
 
 
 def functions(tree):
@@ -146,13 +149,28 @@ class TestImports(unittest.TestCase):
         for name, tree in TREES.items():
             for node in imports(tree):
                 package, _, module = node.module.partition(".")
-                self.assertEqual((package, node.level), ("jumblepost", 0), name)
+                self.assertEqual(node.level, 0, name)
                 for told in node.names:
-                    self.assertIn(told.name, own_names(TREES[module]), name)
                     self.assertIsNone(told.asname)
+                    if package in LIBRARY:
+                        self.assertIn(told.name, LIBRARY[package], name)
+                    else:
+                        self.assertEqual(package, "jumblepost", name)
+                        self.assertIn(told.name, own_names(TREES[module]), name)
+
+    def test_what_the_library_gives_is_called(self):
+        for name, tree in TREES.items():
+            given = {told for told, module in imported(tree).items() if module in LIBRARY}
+            called = {id(node.func) for node in ast.walk(tree) if isinstance(node, ast.Call) and not node.keywords}
+            for node in ast.walk(tree):
+                if isinstance(node, ast.Name) and node.id in given:
+                    self.assertIn(id(node), called, (name, node.lineno))
 
     def test_no_circles(self):
-        below = {name: {node.module.partition(".")[2] for node in imports(tree)} for name, tree in TREES.items()}
+        below = {
+            name: {node.module.partition(".")[2] for node in imports(tree) if node.module not in LIBRARY}
+            for name, tree in TREES.items()
+        }
         done = set()
         while len(done) < len(below):
             ready = {name for name in below if name not in done and below[name] <= done}
@@ -207,6 +225,30 @@ class TestStatements(unittest.TestCase):
                     self.assertEqual(node.exc.keywords, [])
 
 
+class TestTries(unittest.TestCase):
+
+    def tries(self):
+        return [(name, node) for name, tree in TREES.items() for node in ast.walk(tree) if isinstance(node, ast.Try)]
+
+    def test_own_errors_alone_are_caught(self):
+        for name, node in self.tries():
+            self.assertEqual((node.finalbody, node.orelse), ([], []), name)
+            for handler in node.handlers:
+                self.assertIn(handler.type.id, own_names(TREES["errors"]), name)
+
+    def test_nothing_is_yielded_under_a_try(self):
+        for name, node in self.tries():
+            self.assertFalse([told for told in ast.walk(node) if isinstance(told, ast.Yield)], name)
+
+    def test_of_caught_errors_their_own_fields_are_read(self):
+        for name, node in self.tries():
+            for handler in [told for told in node.handlers if told.name]:
+                fine = {id(told.value) for told in ast.walk(handler) if isinstance(told, ast.Attribute)}
+                fine |= {id(told.cause) for told in ast.walk(handler) if isinstance(told, ast.Raise)}
+                read = [told for told in ast.walk(handler) if isinstance(told, ast.Name) and told.id == handler.name]
+                self.assertTrue(read and all(id(told) in fine for told in read), name)
+
+
 class TestNames(unittest.TestCase):
 
     def test_builtins(self):
@@ -253,7 +295,21 @@ class TestNames(unittest.TestCase):
             self.assertEqual(barred & every, set())
         self.assertEqual(decorated("property") & (methods() - decorated("property")), set())
         plain = methods() - decorated("classmethod") - decorated("staticmethod") - decorated("property")
-        self.assertEqual(plain & every, set())
+        self.assertEqual(plain & every, DOCUMENTED_METHODS)
+
+    def test_methods_that_are_attributes_elsewhere(self):
+        """They are called by no operator and no property, and stand under no decorator."""
+        for name, tree in TREES.items():
+            for node in functions(tree):
+                if node.name in DOCUMENTED_METHODS:
+                    self.assertEqual(node.decorator_list, [])
+                calls = [told.func.attr for told in ast.walk(node) if isinstance(told, ast.Call) and isinstance(told.func, ast.Attribute)]
+                if node.decorator_list or node.name in DUNDERS:
+                    self.assertEqual(set(calls) & DOCUMENTED_METHODS, set(), (name, node.name))
+
+    def test_no_attribute_has_the_name_of_a_property(self):
+        every = set().union(*[attributes_set(tree) for tree in TREES.values()])
+        self.assertEqual(decorated("property") & every, set())
 
     def test_attributes_that_are_read_are_set(self):
         every = set().union(*[attributes_set(tree) for tree in TREES.values()])
@@ -281,6 +337,8 @@ class TestCalls(unittest.TestCase):
                         fine.add(id(node.args[1]))
                 elif isinstance(node, ast.ClassDef):
                     fine |= {id(base) for base in node.bases}
+                elif isinstance(node, ast.ExceptHandler):
+                    fine.add(id(node.type))
                 elif isinstance(node, ast.Attribute):
                     fine.add(id(node.value))
             for node in ast.walk(tree):
