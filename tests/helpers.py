@@ -4,17 +4,27 @@ import ast
 import re
 
 from jumblepost import errors
+from jumblepost.desk import Desk
 from jumblepost.forced import Forced
+from jumblepost.greatest import Greatest
 from jumblepost.jumbles import Jumble
+from jumblepost.least import Least
+from jumblepost.ledger import Ledger, LedgerTable, Second
 from jumblepost.lines import Line
+from jumblepost.met import MetForced, MetTwins
+from jumblepost.once import OnceTwins
+from jumblepost.post import Post
 from jumblepost.rows import Row
 from jumblepost.runs import Run
 from jumblepost.sheets import Cell, Panel, Sheet
+from jumblepost.shelves import Cheapest, Shelf
 from jumblepost.sightings import Alike, Sighting
 from jumblepost.spans import SpanTable
 from jumblepost.stamps import Stamp
 from jumblepost.stations import Station
+from jumblepost.steady import SteadyRun
 from jumblepost.store import Store
+from jumblepost.texts import Setting
 from jumblepost.twins import Twins
 from jumblepost.unread import reader
 from jumblepost.views import Sight
@@ -36,9 +46,9 @@ def small_sheet():
     return Sheet((Panel(1, 1),), (0,), (Cell(0, 0, 0),))
 
 
-def some_reader():
-    """A reader of a line with one digit."""
-    return reader(Line(small_sheet(), Stamp.digits(5), Station(1, ((0, 1),))), Jumble(1, 1))
+def small_line():
+    """A line with one digit."""
+    return Line(small_sheet(), Stamp.digits(5), Station(1, ((0, 1),)))
 
 
 def objects():
@@ -46,9 +56,13 @@ def objects():
     return [
         Row(0, 1, 2), Zone(2, 3), Ring(()), Chain(()), Panel(1, 2), Cell(0, 0, 0), small_sheet(),
         Station(3, ((0, 1),)), errors.BadValue("x"), Sight(((0,),), (0, 0, 1), False), Sight(None, 1, [2]),
-        Wheel.digits(7), Stamp.digits(7), Line(small_sheet(), Stamp.digits(5), Station(1, ((0, 1),))),
+        Wheel.digits(7), Stamp.digits(7), small_line(),
         Sighting(0, (0,), (), ("0",)), Alike(None, 3), SpanTable(1, ()), Jumble(1, 2, 3), Run(3, (4,), (5,)),
-        Twins(Jumble(), 0, Run(0), Run(0), (), ()), Forced(Jumble(), None), Store(3), some_reader(),
+        Twins(Jumble(), 0, Run(0), Run(0), (), ()), Forced(Jumble(), None), Store(3), reader(small_line(), Jumble(1, 1)),
+        Ledger(small_line(), Jumble(1, 1)), LedgerTable(Jumble(), (), 0, ((((), 1, 1),),)), Second(Jumble(), (), 0, 0, (), ()),
+        SteadyRun(1, 2, 3, (0, 2)), MetForced(1, 1, 0, None, ()), MetTwins(1, 1, 0, None, None, ()), OnceTwins(1, 1, 0, None, None, ()),
+        Greatest(0, None, None), Least(1, None, ()), Cheapest(("a", "b"), 0, None, ()), Shelf(small_sheet(), ("a", Stamp.digits(5), 1)),
+        Post(small_line(), Jumble(1, 1)), Setting(small_line(), Jumble()), Desk(small_line(), Jumble()),
     ]
 
 

@@ -179,6 +179,128 @@ HISTORIES = '''
 [((0,), (1, 3), (1, 3), (2,)), 2, False]
 '''
 
+LEDGER = '''
+>>> from jumblepost.ledger import Ledger
+>>> book = Ledger(line, jumble)
+>>> book.take_all(a, b, b)
+>>> [len(book), book.ways, book.settled, book.possible(1), (0, 3, 1) in book, book.second(0), book.second(2).one]
+[3, 2, (0, None, None), (1, 3), True, None, (0, 3, 1)]
+>>> book.take_all(a, b, b)
+raises NoHistory(5)
+>>> [len(book), Ledger.of(line, jumble, (a, b)).table().levels]
+[3, ((((), 1, 2),), (((0,), 1, 2), ((2,), 1, 0)), (((1,), 1, 1), ((3,), 1, 1)))]
+'''
+
+LOOK_MET = '''
+>>> from jumblepost.look_met import look_met, look_once
+>>> from jumblepost.met import met_line
+>>> from jumblepost.once import one_unread
+>>> from jumblepost.residues import closed_number, open_residues
+>>> from jumblepost.steady import SteadyRun
+>>> sheet = Sheet((Panel(2, 2),), (0,), (Cell(0, 0, 0), Cell(0, 0, 1)))
+>>> one_late = Line(sheet, Stamp(Wheel.digits(4), Wheel.digits(3, 1)), Station(2, ((0, 2),)))
+>>> two_late = one_late.stamped(Stamp(Wheel.digits(4), Wheel.digits(3, 2)))
+>>> [open_residues(one_late, 4), open_residues(two_late, 4), open_residues(one_late, 8), closed_number(one_late, 4, 9)]
+[(0,), (0, 1), (0, 4), 9]
+>>> run = SteadyRun(2, 2, 6, (0, 1))
+>>> [run.stretch(0, 12), run.where(12), SteadyRun(2, 2, 6, (0, 2), 4).stretch(4, 4), SteadyRun(2, 2, 0, (2, 3)).stretch(0, 8)]
+[(0, 1, 2, 3, 4, 5, 8, 9, 6, 7, 12, 13), (10,), (6, 4, 8, 5), (2, 3, 0, 1, 6, 7, 4, 5)]
+>>> forced, two = met_line(one_late, 2, 2), met_line(two_late, 2, 2, 6)
+>>> [forced.place, forced.closed, look_met(forced, one_late), len(two.alikes), look_met(two, two_late), look_met(two, one_late)]
+[2, (None, 1, 2, 3), True, 6, True, False]
+>>> [one_unread(one_late, 2, 2) == forced, look_once(one_unread(two_late, 2, 2), two_late)]
+[True, True]
+'''
+
+CHANGES = '''
+>>> from jumblepost.changes import at_stations, with_pane
+>>> boxes = Sheet((Panel.firm(8),), (0,), (Cell(0, 0, 0, 2), Cell(0, 0, 6, 2), Cell(0, 0, 3, 2)))
+>>> threes = Stamp.digits(3, 3, 3)
+>>> broad = Line(boxes, threes, Station(10, ((2, 8),)))
+>>> wide, less = with_pane(broad, 0, 0, (2, 10)), with_pane(broad, 0, 0, (2, 7))
+>>> [span(less), span(broad), span(wide), span(at_stations(broad, 0))]
+[3, 1, 9, 1]
+'''
+
+GREATEST = '''
+>>> from jumblepost.greatest import frontier, greatest, with_part
+>>> [greatest(wide, Jumble(2, 2), "late").amount, greatest(wide, Jumble(2, 2), "lost").amount, greatest(wide, Jumble(2, 2, 0, True), "lost").amount, greatest(wide, Jumble(0, 2, 0, False, 1), "early").amount]
+[7, 4, 3, 6]
+>>> [str(with_part(Jumble(1, 2, 0, False, 3), "late", 5)), greatest(less, Jumble(2, 1, 1), "early").amount, bool(greatest(less, Jumble(0, 0, 3), "early"))]
+['early 1 late 5 apart 6', 0, False]
+>>> [str(jumble) for jumble in frontier(less)]
+['early 0 late 0 apart 1', 'early 0 late 0 lost 1 again', 'early 0 late 0 lost 2', 'early 1 late 1 apart 2', 'early 1 late 2', 'early 2 late 1']
+'''
+
+LEAST = '''
+>>> from jumblepost.least import fewest_stations, least_pane, pane_spans
+>>> list(pane_spans(broad, 0, 0))
+[(1, 1), (2, 1), (3, 1), (4, 1), (5, 3), (6, 1), (7, 1), (8, 9)]
+>>> found = least_pane(broad, 0, 0, Jumble(1, 2))
+>>> [found.amount, len(found.lesser), least_pane(broad, 0, 0, Jumble(2, 2)).amount, least_pane(broad, 0, 0, Jumble(5, 5)).amount]
+[5, 4, 8, None]
+>>> left, mid, right = Station(8, ((0, 2),)), Station(8, ((3, 5),)), Station(8, ((6, 8),))
+>>> found = fewest_stations(Line(boxes, threes, left, mid, right), Jumble(2, 2))
+>>> [found.amount, len(found.lesser)]
+[(1, 2), 5]
+'''
+
+SHELVES = '''
+>>> from jumblepost.shelves import Shelf, cheapest
+>>> shelf = Shelf(boxes, ("digits", threes, 5), ("wide", Station(10, ((2, 10),)), 4), ("right", right, 1), ("mid", mid, 1))
+>>> [list(shelf), "left" in shelf, list(shelf.selections())[:3], shelf.cost(("digits", "mid", "wide"))]
+[['digits', 'mid', 'right', 'wide'], False, [('digits', 'mid'), ('digits', 'right'), ('digits', 'mid', 'right')], 10]
+>>> found = cheapest(shelf, Jumble(2, 2))
+>>> [found.names, found.price, [names for names, paper in found.bars], cheapest(shelf.without("mid"), Jumble(2, 2)).names, cheapest(shelf, Jumble(5, 5)).names]
+[('digits', 'mid', 'right'), 7, [('digits', 'mid'), ('digits', 'right')], ('digits', 'wide'), None]
+>>> shelf.beside(("mid", mid, 2))
+raises BadShelf('name', 4)
+'''
+
+LOOK_DESIGNS = '''
+>>> from jumblepost.look_designs import look_cheapest, look_greatest
+>>> best = greatest(wide, Jumble(2, 2), "late")
+>>> [look_greatest(best, wide, Jumble(2, 3), "late"), look_greatest(best, wide, Jumble(3, 2), "late"), look_cheapest(found, shelf.without("wide"), Jumble(2, 2)), look_cheapest(found, shelf.without("right"), Jumble(2, 2))]
+[True, False, True, False]
+'''
+
+POST = '''
+>>> from jumblepost.post import Post, tried
+>>> post = Post(digits, Jumble(early=1, late=2))
+>>> [post.take(("1",)), post.take_all(("2",), ("0",)), post.by_place, tried(post, ("3",), ("5",), ("9",))]
+[((0, 1),), ((1, 2), (2, 0)), (1, 2, 0), (((3, 3), (4, 5)), 5)]
+>>> [post.undo(), post.by_place, len(post.undone), post.redo() == post.deeds[1]]
+[('take', (('2',), ('0',))), (1,), 1, True]
+>>> post.change(Jumble(1, 1))
+raises Unfit(1)
+>>> [post.begin(), post.change(Jumble(2, 2)), post.take(("5",)), post.undo(), len(post.undone), post.drop(), str(post.rule), post.undone]
+[None, None, ((3, 5),), ('take', (('5',),)), 1, None, 'early 1 late 2', ()]
+'''
+
+TEXTS = '''
+>>> from jumblepost.texts import Setting, look_text, read_look, read_record, record_text
+>>> [look_text(("10", "")), look_text(None), read_look("_|a"), record_text((("10", ""), None)), read_record("record")]
+['10|_', '?', ('', 'a'), 'record 10|_ ?', ()]
+>>> read_record("record 1| ?")
+raises BadText(0, 1)
+>>> text = "sheet 1 2 2 ahead 0 cells 2 0 0 0 1 0 0 1 1\\nstamp 0 1 2 3 / 0 0 ; 0 1 2 / 1 0\\nstation 2 panes 1 0 2 rows 0 plain\\njumble early 2 late 2"
+>>> [str(Setting.read(text)) == text, Setting.read(text).line.views, Setting.read(text).jumble.need]
+[True, (((0, 1),),), 4]
+>>> Setting.read(text.replace("0 2 rows", "0 61 rows"))
+raises BadText(2, 5)
+'''
+
+DESK = '''
+>>> from jumblepost.desk import Desk
+>>> desk = Desk(digits, Jumble(1, 2))
+>>> [list(desk.run("span\\nneed\\nopen\\ntake 1 2 0")), desk.ask("undo"), desk.ask("take 1 2"), desk.ask("told")]
+[['10', '3', 'open', '0:1 1:2 2:0'], 'take 1 2 0', '0:1 1:2', '    0 1                              1\\n    1 2                              2']
+>>> [desk.ask("looks 16"), desk.ask("alike 2 12"), desk.ask("alike 2 3"), desk.ask("next 3 100"), desk.ask("jumble early 1 late 2 apart 2"), desk.ask("forced")]
+['6', '2', 'unlike', '103', 'set', 'twins 0 0 1']
+>>> desk.ask("take 1 x|")
+raises BadAsk(0, 2)
+'''
+
 # The examples that stand in running text under the headings of jumbles and runs.
 JUMBLES = '''
 >>> from jumblepost.jumbles import Jumble
@@ -222,7 +344,9 @@ class TestExamples(unittest.TestCase):
 
     def test_those_behind_views(self):
         examples = Examples(self)
-        for text in (VIEWS, WHEELS, STAMPS, PRINTED, LOOK_SIGHTINGS, LOOK_SPANS, JUMBLES, RUNS, HEADS, STORE, UNREAD, HISTORIES):
+        for text in (VIEWS, WHEELS, STAMPS, PRINTED, LOOK_SIGHTINGS, LOOK_SPANS, JUMBLES, RUNS, HEADS, STORE, UNREAD, HISTORIES, LEDGER):
+            examples.run(text)
+        for text in (LOOK_MET, CHANGES, GREATEST, LEAST, SHELVES, LOOK_DESIGNS, POST, TEXTS, DESK):
             examples.run(text)
 
 

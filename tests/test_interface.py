@@ -43,6 +43,30 @@ FUNCTIONS = {
         "walk_histories": "(line, jumble, record, first=0)", "dead_end": "(line, jumble, record, first=0)",
         "is_history": "(line, jumble, record, history, first=0)",
     },
+    "ledger": {"ledger_table": "(line, jumble, record, first=0)"},
+    "look_histories": {"look_ledger": "(paper, line)", "look_second": "(paper, line)"},
+    "residues": {"open_residues": "(line, spread)", "closed_number": "(line, spread, number)"},
+    "met": {"met_line": "(line, early, late, place=None)"},
+    "once": {"one_unread": "(line, early, late)"},
+    "look_met": {"look_met": "(paper, line)", "look_once": "(paper, line)"},
+    "changes": {"with_pane": "(line, station_at, pane_at, pane)", "at_stations": "(line, *stations_at)"},
+    "greatest": {
+        "with_part": "(jumble, part, amount)", "greatest": "(line, jumble, part)", "frontier": "(line, most=6)",
+    },
+    "least": {
+        "pane_spans": "(line, station_at, pane_at)", "least_pane": "(line, station_at, pane_at, jumble)",
+        "fewest_stations": "(line, jumble)",
+    },
+    "shelves": {"cheapest": "(shelf, jumble)"},
+    "look_designs": {
+        "look_greatest": "(paper, line, jumble, part)", "look_pane": "(paper, line, station_at, pane_at, jumble)",
+        "look_stations": "(paper, line, jumble)", "look_cheapest": "(paper, shelf, jumble)",
+    },
+    "post": {"tried": "(post, *looks)"},
+    "texts": {
+        "look_text": "(look)", "read_look": "(text)", "record_text": "(record)", "read_record": "(text)",
+    },
+    "desk_lines": {"parsed": "(text)", "columns": "(rows, widths)"},
 }
 
 CLASSES = {
@@ -104,6 +128,43 @@ CLASSES = {
         "PlainReader": {"KIND": None}, "LossReader": {"KIND": None}, "AgainReader": {"KIND": None},
     },
     "unread": {"UnreadReader": {"KIND": None, "window": None}},
+    "ledger": {
+        "Ledger": {
+            "__init__": "(self, line, jumble, first=0)", "MOST": None, "of": "(line, jumble, record, first=0)", "beginnings": "(self)", "take": "(self, look)",
+            "take_all": "(self, *looks)", "__len__": "(self)", "ways": None, "settled": None, "possible": "(self, place)", "second": "(self, place)",
+            "__contains__": "(self, x)", "table": "(self)",
+        },
+        "LedgerTable": {"__init__": "(self, jumble, looks, first, levels)", "__eq__": "(self, other)"},
+        "Second": {"__init__": "(self, jumble, looks, first, place, one, other)", "__eq__": "(self, other)"},
+    },
+    "steady": {
+        "SteadyRun": {
+            "__init__": "(self, early, late, place, ahead, final=None)", "__eq__": "(self, other)", "letter": "(self, place)", "where": "(self, number)",
+            "stretch": "(self, place, many)",
+        },
+    },
+    "met": {
+        "MetForced": {"__init__": "(self, early, late, place, table, closed)", "__eq__": "(self, other)"},
+        "MetTwins": {"__init__": "(self, early, late, place, one, other, alikes)", "__eq__": "(self, other)"},
+    },
+    "once": {"OnceTwins": {"__init__": "(self, early, late, unread, one, other, alikes)", "__eq__": "(self, other)"}},
+    "greatest": {"Greatest": {"__init__": "(self, amount, forced, beyond)", "__eq__": "(self, other)", "__bool__": "(self)"}},
+    "least": {"Least": {"__init__": "(self, amount, forced, lesser)", "__eq__": "(self, other)", "__bool__": "(self)"}},
+    "shelves": {
+        "Shelf": {
+            "__init__": "(self, sheet, *rows)", "__len__": "(self)", "__iter__": "(self)", "__contains__": "(self, x)", "__getitem__": "(self, at)",
+            "beside": "(self, *rows)", "without": "(self, *names)", "selections": "(self)", "chosen": "(self, names)", "cost": "(self, names)", "__eq__": "(self, other)",
+        },
+        "Cheapest": {"__init__": "(self, names, price, forced, bars)", "__eq__": "(self, other)", "__bool__": "(self)"},
+    },
+    "post": {
+        "Post": {
+            "__init__": "(self, line, jumble, first=0)", "by_place": None, "take": "(self, look)", "take_all": "(self, *looks)", "change": "(self, jumble)",
+            "do": "(self, *deeds)", "undo": "(self)", "redo": "(self)", "begin": "(self)", "keep": "(self)", "drop": "(self)",
+        },
+    },
+    "texts": {"Setting": {"__init__": "(self, line, jumble)", "__eq__": "(self, other)", "__str__": "(self)", "read": "(text)"}},
+    "desk": {"Desk": {"__init__": "(self, line, jumble, first=0)", "ask": "(self, text)", "run": "(self, text)"}},
 }
 
 # All other classes stand below none.
