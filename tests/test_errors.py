@@ -3,6 +3,20 @@
 import unittest
 
 from jumblepost import errors
+from jumblepost.desk import Desk
+from jumblepost.jumbles import Jumble
+from jumblepost.ledger import Ledger
+from jumblepost.lines import Line
+from jumblepost.post import Post
+from jumblepost.rows import Row
+from jumblepost.runs import Run
+from jumblepost.sheets import Cell, Panel, Sheet
+from jumblepost.shelves import Shelf
+from jumblepost.stamps import Stamp
+from jumblepost.stations import Station
+from jumblepost.unread import reader
+from jumblepost.zones import Zone
+from tests import helpers
 from tests.helpers import odd_values
 
 FIELDS = {
@@ -54,6 +68,27 @@ class TestErrors(unittest.TestCase):
             with self.assertRaises(ValueError) as caught:
                 raise errors.PostError(*told)
             self.assertEqual(len(caught.exception.args), len(told))
+
+    def test_what_functions_raise(self):
+        """Each class is raised by some function, and caught by its own name, by that of the base and as a ValueError."""
+        sheet, stamp, station = helpers.small_sheet(), Stamp.digits(5), Station(1, ((0, 1),))
+        line = helpers.small_line()
+        book = Ledger(line, Jumble(1, 1))
+        calls = {
+            "BadValue": lambda: Zone(0, 1), "BadRow": lambda: Row(1, 1, 0), "BadSheet": lambda: Sheet((Panel(1, 1),), (0,), (Cell(1, 0, 0),)),
+            "BadStation": lambda: Station(1, ((0, 2),)), "BadStamp": lambda: Stamp(), "BadLine": lambda: Line(sheet, stamp),
+            "NoPlacing": lambda: Line(sheet, stamp, Station(1, ((0, 1),), [Row(1, 0, -1)])), "TooMany": lambda: Line(sheet, stamp, *[station] * 4),
+            "BadRun": lambda: Run(0, (-1,)), "NotForced": lambda: reader(line, Jumble(9, 9)), "Unfit": lambda: reader(line, Jumble()).take(("9",)),
+            "BadRecord": lambda: book.take(3), "NoHistory": lambda: book.take(("x",)), "NothingKept": lambda: Post(line, Jumble()).undo(),
+            "BadText": lambda: Row.read(""), "BadAsk": lambda: Desk(line, Jumble()).ask(""), "BadShelf": lambda: Shelf(sheet, 0), "NoName": lambda: Shelf(sheet)["a"],
+        }
+        self.assertEqual(sorted(calls), sorted(FIELDS))
+        for name, call in calls.items():
+            for caught in (getattr(errors, name), errors.PostError, ValueError):
+                with self.assertRaises(caught) as told:
+                    call()
+                self.assertIs(type(told.exception), getattr(errors, name))
+                self.assertEqual(tuple(vars(told.exception)), FIELDS[name])
 
     def test_caught_as_value_error(self):
         with self.assertRaises(ValueError) as caught:
