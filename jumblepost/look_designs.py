@@ -83,7 +83,8 @@ def look_stations(paper, line, jumble):
             return False
     if paper.amount is None:
         return True
-    return look_forced_by(paper.forced, at_stations(line, *choices[len(paper.lesser)]), jumble)
+    amount = paper.amount
+    return look_forced_by(paper.forced, at_stations(line, *amount), jumble)
 
 
 def is_bar(value, shelf, jumble):
