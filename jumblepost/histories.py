@@ -126,12 +126,12 @@ class Chart:
             for place, moves in enumerate(self.leads)
         ]
 
-    def possible(self):
-        """For each place the numbers that some history has there, ascending."""
-        return tuple([
-            tuple(sorted(set([number for moves in table.values() for number, _ in moves])))
-            for table in self.live_moves()
-        ])
+
+def numbers_among(live):
+    """For each place the numbers that some history has there, ascending, by the moves that go on to one."""
+    return tuple([
+        tuple(sorted(set([number for moves in table.values() for number, _ in moves]))) for table in live
+    ])
 
 
 def chart_of(line, jumble, record, first):
@@ -157,7 +157,7 @@ def count_histories(line, jumble, record, first=0):
 def possible_numbers(line, jumble, record, first=0):
     """For each place of a record the numbers that some history has there, ascending."""
     check_record(line, jumble, record, first)
-    return chart_of(line, jumble, record, first).possible()
+    return numbers_among(chart_of(line, jumble, record, first).live_moves())
 
 
 def walk_histories(line, jumble, record, first=0):

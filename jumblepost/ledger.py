@@ -2,7 +2,7 @@
 
 from jumblepost.common import are_integers, is_between
 from jumblepost.errors import BadRecord, BadValue, NoHistory, TooMany
-from jumblepost.histories import Chart, chart_of, check_record, dead_place, is_item, open_at
+from jumblepost.histories import Chart, chart_of, check_record, dead_place, is_item, numbers_among, open_at
 
 
 class LedgerTable:
@@ -101,8 +101,7 @@ class Ledger:
         self.jumble = jumble
         self.first = first
         self.begin = 0
-        self.record = ()
-        self.chart = Chart(jumble, first)
+        self.stand((), Chart(jumble, first))
 
     @classmethod
     def of(cls, line, jumble, record, first=0):
@@ -131,13 +130,16 @@ class Ledger:
     def settled(self):
         """For each place its number if all histories have it there, otherwise None."""
         return tuple([
-            numbers[0] if len(numbers) == 1 else None for numbers in self.chart.possible()
+            numbers[0] if len(numbers) == 1 else None for numbers in self.numbers
         ])
 
     def stand(self, record, chart):
         """Comes to a record and its chart."""
         self.record = record
         self.chart = chart
+        # Places are asked for more often than looks are taken.
+        self.live = chart.live_moves()
+        self.numbers = numbers_among(self.live)
 
     def beginnings(self):
         """The states that are possible ahead of all looks, ascending."""
@@ -171,16 +173,15 @@ class Ledger:
     def possible(self, place):
         """The numbers that some history has at a place, ascending."""
         self.check_place(place)
-        return self.chart.possible()[place]
+        return self.numbers[place]
 
     def second(self, place):
         """A Second with two numbers of a place, None if the place is settled."""
         numbers = self.possible(place)
         if len(numbers) == 1:
             return None
-        live = self.chart.live_moves()
-        one = history_with(live, place, numbers[0])
-        other = history_with(live, place, numbers[1])
+        one = history_with(self.live, place, numbers[0])
+        other = history_with(self.live, place, numbers[1])
         return Second(self.jumble, self.record, self.first, place, one, other)
 
     def check_place(self, place):
