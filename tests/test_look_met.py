@@ -240,6 +240,15 @@ class TestMetForced(Check):
         self.assertIs(look_met(MetForced(4, 4, 3, table, ()), line), True)
         self.assertIs(look_met(MetForced(1, 2, 3, table, ()), line), False)
 
+    def test_spreads(self):
+        """A spread of 12 is looked at, and one of 13 is not."""
+        line = wide_lines.seen_line(5, 4)
+        table = span_table(line)
+        for early in range(1, 13):
+            for late in range(1, 13):
+                paper = MetForced(early, late, 3, table, ())
+                self.assertIs(look_met(paper, line), early + late <= 12)
+
     def test_no_table_is_made(self):
         line, _ = wide_lines.above_4000()[3]
         table = SpanTable(2, tables.tables(line))

@@ -176,6 +176,10 @@ class TestRefused(unittest.TestCase):
         self.assertEqual(run, SteadyRun(2, 2, 6, (0, 2), 4))
         for other in (SteadyRun(2, 2, 6, (0, 2)), SteadyRun(2, 2, 6, (0, 2), 6), SteadyRun(2, 2, 10, (0, 2)), SteadyRun(2, 2, 6, (0, 1)), SteadyRun(3, 2, 6, (0, 2))):
             self.assertNotEqual(run, other)
+        # Of these each one differs from the next one in one part alone.
+        row = [SteadyRun(2, 2, 6, (0, 2)), SteadyRun(3, 2, 6, (0, 2)), SteadyRun(3, 2, 7, (0, 2)), SteadyRun(3, 2, 7, (1, 2)), SteadyRun(3, 2, 7, (1, 2), 6)]
+        for one, other in zip(row, row[1:]):
+            self.assertNotEqual(one, other)
         self.assertIsNone(SteadyRun(2, 2, 6, (0, 2)).final)
         for value in odd_values():
             self.assertNotEqual(run, value)
