@@ -121,25 +121,15 @@ class Ledger:
     def __contains__(self, x):
         return is_row_of(self.chart, x)
 
-    @property
-    def ways(self):
-        """The number of histories."""
-        return self.chart.total()
-
-    @property
-    def settled(self):
-        """For each place its number if all histories have it there, otherwise None."""
-        return tuple([
-            numbers[0] if len(numbers) == 1 else None for numbers in self.numbers
-        ])
-
     def stand(self, record, chart):
         """Comes to a record and its chart."""
         self.record = record
         self.chart = chart
-        # Places are asked for more often than looks are taken.
+        # A ledger is asked more often than it takes looks.
         self.live = chart.live_moves()
         self.numbers = numbers_among(self.live)
+        self.ways = chart.total()
+        self.settled = tuple([numbers[0] if len(numbers) == 1 else None for numbers in self.numbers])
 
     def beginnings(self):
         """The states that are possible ahead of all looks, ascending."""

@@ -131,7 +131,7 @@ CLASSES = {
     "ledger": {
         "Ledger": {
             "__init__": "(self, line, jumble, first=0)", "MOST": None, "of": "(line, jumble, record, first=0)", "beginnings": "(self)", "take": "(self, look)",
-            "take_all": "(self, *looks)", "__len__": "(self)", "ways": None, "settled": None, "possible": "(self, place)", "second": "(self, place)",
+            "take_all": "(self, *looks)", "__len__": "(self)", "possible": "(self, place)", "second": "(self, place)",
             "__contains__": "(self, x)", "table": "(self)",
         },
         "LedgerTable": {"__init__": "(self, jumble, looks, first, levels)", "__eq__": "(self, other)"},
