@@ -2,7 +2,11 @@
 
 
 class PostError(ValueError):
-    """The base of all errors of the package."""
+    """The base of all errors of the package; it is made with any values, or with none."""
+
+    def __init__(self, *told):
+        # By LANGUAGE.md an error without an __init__ takes strings alone. There is no field to keep.
+        pass
 
 
 class BadValue(PostError):

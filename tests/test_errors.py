@@ -1,5 +1,7 @@
 """Errors: fields of any kind, by position and by name, and the classes above them."""
 
+import inspect
+import itertools
 import unittest
 
 from jumblepost import errors
@@ -28,6 +30,12 @@ FIELDS = {
 }
 
 
+def any_values():
+    """Values of all kinds, errors of each class among them."""
+    made = [getattr(errors, name)(*fields) for name, fields in FIELDS.items()]
+    return [*odd_values(), 0, 5, [1, None], *made, errors.PostError(), errors.PostError(5, [1], None)]
+
+
 class TestErrors(unittest.TestCase):
 
     def test_no_other_errors(self):
@@ -35,17 +43,21 @@ class TestErrors(unittest.TestCase):
         self.assertEqual(sorted(found), sorted([*FIELDS, "PostError"]))
 
     def test_fields_by_position_and_by_name(self):
-        values = odd_values()
+        values = any_values()
         for name, fields in FIELDS.items():
-            made = getattr(errors, name)
             for at in range(len(values)):
-                told = [values[at], values[at - 1]][:len(fields)]
-                error = made(*told)
-                named = made(**dict(reversed(list(zip(fields, told)))))
-                for field, value in zip(fields, told):
-                    self.assertIs(getattr(error, field), value)
-                    self.assertIs(getattr(named, field), value)
-                self.assertEqual(vars(error), dict(zip(fields, told)))
+                self.check_fields(getattr(errors, name), fields, [values[at], values[at - 1]][:len(fields)])
+
+    def check_fields(self, made, fields, told):
+        """Makes an error in each way that its fields can be passed, and looks at it."""
+        pairs = list(zip(fields, told))
+        ways = [made(*told), made(**dict(pairs)), made(**dict(reversed(pairs))), made(*told[:1], **dict(pairs[1:]))]
+        for error in ways:
+            self.assertIsInstance(error, errors.PostError)
+            self.assertIsInstance(error, ValueError)
+            self.assertEqual(tuple(vars(error)), fields)
+            for field, value in pairs:
+                self.assertIs(getattr(error, field), value)
 
     def test_classes_above(self):
         for name, fields in FIELDS.items():
@@ -63,11 +75,46 @@ class TestErrors(unittest.TestCase):
             self.assertRaises(TypeError, made)
             self.assertRaises(TypeError, made, *range(len(fields) + 1))
 
-    def test_base_with_any_values(self):
-        for told in ((), (1,), (None, [2], "x"), tuple(odd_values())):
-            with self.assertRaises(ValueError) as caught:
+    def test_each_has_its_own_init(self):
+        for name, fields in {**FIELDS, "PostError": ("*told",)}.items():
+            made = vars(getattr(errors, name))["__init__"]
+            self.assertEqual(str(inspect.signature(made)), "(self, " + ", ".join(fields) + ")", name)
+
+    def check_base(self, told):
+        """Makes and raises a PostError of some values; it has no fields."""
+        for caught_by in (errors.PostError, ValueError):
+            with self.assertRaises(caught_by) as caught:
                 raise errors.PostError(*told)
-            self.assertEqual(len(caught.exception.args), len(told))
+            self.assertIs(type(caught.exception), errors.PostError)
+            self.assertIsInstance(caught.exception, ValueError)
+            self.assertEqual(vars(caught.exception), {})
+
+    def test_base_without_values(self):
+        self.check_base(())
+        self.assertRaises(ValueError, self.raise_bare)
+
+    def raise_bare(self):
+        """Raises the class itself, which Python makes without values."""
+        raise errors.PostError
+
+    def test_base_with_one_value_of_each_kind(self):
+        for value in any_values():
+            self.check_base((value,))
+
+    def test_base_with_several_values(self):
+        kinds = (5, True, None, "x", [1], (2, "y"), {"a": [3]}, Row(0, 1, 2), errors.PostError(5), errors.BadText(1, 2))
+        for many in (2, 3):
+            for told in itertools.product(kinds, repeat=many):
+                self.check_base(told)
+        self.check_base(tuple(any_values()))
+        self.check_base((5, [1], None))
+
+    def test_values_stay_as_they_are(self):
+        row, table = [1, [2]], {"a": [3]}
+        errors.PostError(row, table)
+        for name, fields in FIELDS.items():
+            getattr(errors, name)(*[row, table][:len(fields)])
+        self.assertEqual((row, table), ([1, [2]], {"a": [3]}))
 
     def test_what_functions_raise(self):
         """Each class is raised by some function, and caught by its own name, by that of the base and as a ValueError."""
