@@ -56,7 +56,8 @@ def rows_to(live, place):
     rows = {(): ()}
     for moves in live[:place]:
         found = {}
-        for state in rows:
+        # A list, as the name of the dict is given to the one that grows here.
+        for state in list(rows):
             for number, behind in moves[state]:
                 if behind not in found:
                     found[behind] = rows[state] + (number,)

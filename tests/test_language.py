@@ -324,7 +324,23 @@ class TestNames(unittest.TestCase):
                         self.assertIn(node.attr, every | values | decorated("property"), (name, node.lineno))
 
 
+def with_init(node):
+    """Whether a class, or one above it, has an __init__ in its own body."""
+    above = [told for tree in TREES.values() for told in classes(tree) for base in node.bases if told.name == base.id]
+    return "__init__" in [told.name for told in node.body if isinstance(told, ast.FunctionDef)] or any(map(with_init, above))
+
+
 class TestCalls(unittest.TestCase):
+
+    def test_classes_that_are_passed_values_have_an_init(self):
+        """Of the errors each one has its own: the document lets any values be passed to it, not strings alone."""
+        bare = {node.name for tree in TREES.values() for node in classes(tree) if not with_init(node)}
+        for name, tree in TREES.items():
+            for node in ast.walk(tree):
+                if isinstance(node, ast.Call) and isinstance(node.func, ast.Name) and node.func.id in bare:
+                    self.assertEqual((node.args, node.keywords), ([], []), (name, node.lineno))
+        for node in classes(TREES["errors"]):
+            self.assertIn("__init__", [told.name for told in node.body if isinstance(told, ast.FunctionDef)], node.name)
 
     def test_classes_are_called_or_asked_for(self):
         known = {node.name for tree in TREES.values() for node in classes(tree)}
@@ -382,30 +398,102 @@ def iterated(node):
         if isinstance(node.func, ast.Name) and node.func.id in ("enumerate", "zip", "reversed"):
             return [told for arg in node.args for told in iterated(arg)]
         if isinstance(node.func, ast.Attribute) and node.func.attr in ("items", "keys", "values"):
-            return [ast.dump(node.func.value)]
+            return chosen(node.func.value)
         return []
-    return [ast.dump(node)] if isinstance(node, (ast.Name, ast.Attribute, ast.Subscript)) else []
+    return chosen(node)
+
+
+def chosen(node):
+    """The names, fields and items that an expression can be: several if it is a choice."""
+    if isinstance(node, ast.IfExp):
+        return chosen(node.body) + chosen(node.orelse)
+    if isinstance(node, ast.BoolOp):
+        return [told for value in node.values for told in chosen(value)]
+    if isinstance(node, (ast.Name, ast.Attribute, ast.Subscript)):
+        return [ast.unparse(node)]
+    return []
 
 
 def modified(node):
-    """What is modified in some rows by a method of builtin values, or by an item."""
+    """What is modified in some rows by a method of builtin values, by an item, or in place."""
     found = []
     for told in ast.walk(node):
         if isinstance(told, ast.Call) and isinstance(told.func, ast.Attribute) and told.func.attr in MODIFYING:
-            found.append(ast.dump(told.func.value))
-        if isinstance(told, ast.Subscript) and isinstance(told.ctx, ast.Store):
-            found.append(ast.dump(told.value))
-    return [text.replace("Store()", "Load()") for text in found]
+            found.extend(chosen(told.func.value))
+        if isinstance(told, ast.Call) and isinstance(told.func, ast.Name) and told.func.id in LIBRARY["heapq"]:
+            found.extend(chosen(told.args[0]))
+        if isinstance(told, ast.Subscript) and isinstance(told.ctx, (ast.Store, ast.Del)):
+            found.extend(chosen(told.value))
+        if isinstance(told, ast.AugAssign):
+            found.extend(chosen(told.target))
+    return found
+
+
+def assigned(target, value):
+    """The pairs (name, other name) for what an assignment gives to one that another one has."""
+    if isinstance(target, ast.Tuple):
+        values = value.elts if isinstance(value, ast.Tuple) and len(value.elts) == len(target.elts) else []
+        return [pair for one, told in zip(target.elts, values) for pair in assigned(one, told)]
+    return [(one, other) for one in chosen(target) for other in chosen(value)]
+
+
+def with_other_names(function, names):
+    """Some names, and all that stand for the same thing by some assignment of a function, wherever it stands."""
+    rows = [node for node in ast.walk(function) if isinstance(node, ast.Assign)]
+    pairs = [pair for node in rows for target in node.targets for pair in assigned(target, node.value)]
+    names = set(names)
+    many = 0
+    while many < len(names):
+        many = len(names)
+        names |= {name for pair in pairs if set(pair) & names for name in pair}
+    return names
+
+
+def changed_loops(tree):
+    """The lines of the loops and comprehensions that change what they iterate over, by any of its names."""
+    found = []
+    for function in functions(tree):
+        for node in ast.walk(function):
+            if isinstance(node, ast.For):
+                over, inside = iterated(node.iter), node.body
+            elif isinstance(node, COMPREHENSIONS):
+                over, inside = [told for rule in node.generators for told in iterated(rule.iter)], [node]
+            else:
+                continue
+            if with_other_names(function, over) & {told for row in inside for told in modified(row)}:
+                found.append(node.lineno)
+    return found
+
+
+CHANGED_LOOPS = """
+def walk(rows, box, wide):
+    found = {}
+    for row in rows:
+        HERE
+    other = found if wide else {}
+    box.rows, last = other, 0
+    rows = box.rows
+    return rows
+"""
 
 
 class TestLoops(unittest.TestCase):
 
     def test_nothing_is_changed_that_is_iterated_over(self):
         for name, tree in TREES.items():
-            for node in ast.walk(tree):
-                if isinstance(node, ast.For):
-                    changed = [text for row in node.body for text in modified(row)]
-                    self.assertEqual(set(iterated(node.iter)) & set(changed), set(), (name, node.lineno))
+            self.assertEqual(changed_loops(tree), [], name)
+
+    def test_changes_are_seen_under_each_name(self):
+        for row in ("rows[row] = 1", "found[row] = 1", "box.rows[row] = 1", "other.pop(row)", "found += [row]",
+                    "(found or box).append(row)", "del found[row]", "heappush(other, row)"):
+            self.assertEqual(changed_loops(ast.parse(CHANGED_LOOPS.replace("HERE", row))), [4], row)
+        for row in ("box[row] = 1", "last[row] = 1", "found = {}", "row.append(1)", "rows[row].append(1)"):
+            self.assertEqual(changed_loops(ast.parse(CHANGED_LOOPS.replace("HERE", row))), [], row)
+        text = CHANGED_LOOPS.replace("HERE", "found[row] = 1")
+        for fine in ("list(rows)", "sorted(rows)", "list(rows.items())"):
+            self.assertEqual(changed_loops(ast.parse(text.replace("in rows:", "in " + fine + ":"))), [], fine)
+        for wrong in ("rows.items()", "enumerate(rows)", "zip(wide, rows)", "(wide or rows)"):
+            self.assertEqual(changed_loops(ast.parse(text.replace("in rows:", "in " + wrong + ":"))), [4], wrong)
 
     def test_names_in_inner_comprehensions(self):
         for name, tree in TREES.items():
